@@ -9,7 +9,7 @@ import (
 
 	"rallentando/api"
 	"rallentando/dbm"
-	"rallentando/rat"
+	"rallentando/sample"
 )
 
 const (
@@ -17,6 +17,12 @@ const (
 	none  = api.None
 	least = math.MinInt
 	great = math.MaxInt
+)
+
+// What matrices are written with.
+var (
+	most, less           = sample.Most, sample.Less
+	of, full, with, free = sample.Of, sample.Full, sample.With, sample.Free
 )
 
 // The calls, with the chapter's signatures.
@@ -28,34 +34,6 @@ var (
 	_ func(api.Dbm, api.Dbm) bool                = dbm.Same
 	_ func(api.Dbm) api.Dbm                      = dbm.Twin
 )
-
-func most(c int) api.Bound { return api.Bound(2*c + 1) }
-
-func less(c int) api.Bound { return api.Bound(2 * c) }
-
-// of is a matrix as it is written, whether it may be or not.
-func of(clocks int, bounds ...api.Bound) api.Dbm { return api.Dbm{Clocks: clocks, Bounds: bounds} }
-
-// full is a matrix with one bound everywhere.
-func full(clocks int, b api.Bound) api.Dbm {
-	return of(clocks, slices.Repeat([]api.Bound{b}, clocks*clocks)...)
-}
-
-// with is a matrix that has another bound at one place.
-func with(d api.Dbm, i, j int, b api.Bound) api.Dbm {
-	bounds := slices.Clone(d.Bounds)
-	bounds[i*d.Clocks+j] = b
-	return of(d.Clocks, bounds...)
-}
-
-// free is a matrix that says nothing but at most 0 of each clock and itself.
-func free(clocks int) api.Dbm {
-	d := full(clocks, none)
-	for i := range clocks {
-		d.Bounds[i*clocks+i] = 1
-	}
-	return d
-}
 
 func by(n, d int) api.Rat { return api.Rat{Num: n, Den: d} }
 
@@ -80,26 +58,13 @@ func good() []api.Dbm {
 	return l
 }
 
-// bad are matrices that may not be: by Clocks, by how many Bounds there are, by a number.
-func bad() []api.Dbm {
-	l := []api.Dbm{{}, of(0), of(0, 1), of(-1, 1), of(-2, 1, 1, 1, 1), of(5, full(5, 1).Bounds...), of(great, 1), of(least, 1), of(least), of(1 << 32), of(least + 1),
-		of(1), of(1, 1, 1), {Clocks: 1, Bounds: []api.Bound{}}, of(2), of(2, 1), of(2, 1, 1, 1), of(2, 1, 1, 1, 1, 1), of(3, full(2, 1).Bounds...), of(2, full(3, 1).Bounds...),
-		of(4), of(4, full(4, 1).Bounds[1:]...), of(4, append(full(4, 1).Bounds, 1)...), of(4, full(5, 1).Bounds...), of(3, 1, 1, 1)}
-	for clocks := 1; clocks <= 4; clocks++ {
-		for _, b := range []api.Bound{most(edge + 1), less(edge + 1), most(-edge - 1), less(-edge - 1), most(1 << 61), less(-1 << 61), none - 1, none - 2, least, least + 1} {
-			l = append(l, full(clocks, b), with(free(clocks), 0, 0, b), with(free(clocks), 0, clocks-1, b), with(free(clocks), clocks-1, 0, b), with(free(clocks), clocks-1, clocks-1, b))
-		}
-	}
-	return l
-}
-
 func TestCheck(t *testing.T) { // P4.1
 	for _, d := range good() {
 		if e := dbm.Check(d); e != api.OK {
 			t.Errorf("Check(%v) = %d, want OK", d, e)
 		}
 	}
-	for _, d := range bad() {
+	for _, d := range sample.Bad() {
 		if e := dbm.Check(d); e != api.ErrBad {
 			t.Errorf("Check(%v) = %d, want ErrBad", d, e)
 		}
@@ -142,7 +107,7 @@ func TestTop(t *testing.T) { // P4.1
 }
 
 func TestSame(t *testing.T) { // P4.1
-	l := append(good(), bad()...)
+	l := append(good(), sample.Bad()...)
 	for i, a := range l {
 		for k, b := range l {
 			want := a.Clocks == b.Clocks && len(a.Bounds) == len(b.Bounds)
@@ -190,7 +155,7 @@ func TestSame(t *testing.T) { // P4.1
 }
 
 func TestTwin(t *testing.T) { // P4.1, P4.4
-	for _, d := range append(good(), bad()...) {
+	for _, d := range append(good(), sample.Bad()...) {
 		held := of(d.Clocks, slices.Clone(d.Bounds)...)
 		twin := dbm.Twin(d)
 		if !reflect.DeepEqual(twin, d) || !dbm.Same(twin, d) {
@@ -344,7 +309,7 @@ func TestCloseOfEmpty(t *testing.T) { // P4.2, P4.5
 }
 
 func TestCloseOfBad(t *testing.T) { // P4.2, P1
-	for _, d := range bad() {
+	for _, d := range sample.Bad() {
 		if closed, e := dbm.Close(d); !reflect.DeepEqual(closed, api.Dbm{}) || e != api.ErrBad {
 			t.Errorf("Close(%v) = %v, %d, want zero, ErrBad", d, closed, e)
 		}
@@ -556,7 +521,7 @@ func TestKeeps(t *testing.T) { // P4.3
 
 func TestKeepsAsksFirst(t *testing.T) { // P4.3, P1
 	wrong := []api.Rat{{}, by(1, 0), by(2, 4), by(0, 2), by(1, -1), by(1, 1<<20+1), by(1<<61+1, 1), by(-1<<61-1, 1), by(least, 1)}
-	for _, d := range bad() {
+	for _, d := range sample.Bad() {
 		for _, times := range [][]api.Rat{nil, wholes(1), wholes(1, 2), wholes(1, 2, 3), wrong} {
 			if is, e := dbm.Keeps(d, times); is || e != api.ErrBad {
 				t.Errorf("Keeps(%v, %v) = %t, %d, want false, ErrBad", d, times, is, e)
@@ -594,26 +559,6 @@ func TestKeepsAsksFirst(t *testing.T) { // P4.3, P1
 	}
 }
 
-// grid goes through times by 4, as far as reach on both sides, for all clocks but that of nought: whole numbers' bounds that any times in reach keep are kept by one of these.
-func grid(clocks, reach int, each func([]api.Rat)) {
-	var quarters []api.Rat
-	for n := -4 * reach; n <= 4*reach; n++ {
-		q, _ := rat.Of(n, 4)
-		quarters = append(quarters, q)
-	}
-	var more func(times []api.Rat)
-	more = func(times []api.Rat) {
-		if len(times) == clocks-1 {
-			each(times)
-			return
-		}
-		for _, q := range quarters {
-			more(append(slices.Clone(times), q))
-		}
-	}
-	more(nil)
-}
-
 // Of small numbers: just the same times keep the closed one, none keep an empty one, and each bound of the closed one is the least: one below would leave out some times.
 func TestSameTimesKeepTheClosedOne(t *testing.T) { // P4.2, P4.5
 	kept, empty := 0, 0
@@ -624,7 +569,7 @@ func TestSameTimesKeepTheClosedOne(t *testing.T) { // P4.2, P4.5
 		closed, e := dbm.Close(d)
 		found := false
 		reached := make([]bool, len(d.Bounds))
-		grid(d.Clocks, 4, func(times []api.Rat) {
+		sample.Grid(d.Clocks, 4, func(times []api.Rat) {
 			is, wrong := dbm.Keeps(d, times)
 			if wrong != api.OK {
 				t.Fatal(d, times, wrong)
@@ -661,7 +606,7 @@ func TestSameTimesKeepTheClosedOne(t *testing.T) { // P4.2, P4.5
 }
 
 func TestOnlyReadAndNew(t *testing.T) { // P4.4
-	for _, d := range append(many(), bad()...) {
+	for _, d := range append(many(), sample.Bad()...) {
 		held := of(d.Clocks, slices.Clone(d.Bounds)...)
 		times := wholes(1, 2, 3)[:max(0, min(d.Clocks-1, 3))]
 		dbm.Check(d)

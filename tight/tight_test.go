@@ -2,7 +2,6 @@ package tight_test
 
 import (
 	"math"
-	"math/rand"
 	"reflect"
 	"slices"
 	"testing"
@@ -10,6 +9,7 @@ import (
 	"rallentando/api"
 	"rallentando/dbm"
 	"rallentando/rat"
+	"rallentando/sample"
 	"rallentando/tight"
 )
 
@@ -20,40 +20,18 @@ const (
 	great = math.MaxInt
 )
 
+// What matrices are written with.
+var (
+	most, less           = sample.Most, sample.Less
+	of, full, with, free = sample.Of, sample.Full, sample.With, sample.Free
+)
+
 // The calls, with the chapter's signatures.
 var (
 	_ func(api.Dbm, int, int, api.Bound) (api.Dbm, api.Errno) = tight.Set
 	_ func(api.Dbm, api.Dbm) (api.Dbm, api.Errno)             = tight.Meet
 	_ func(api.Dbm, int, api.Span) (api.Dbm, api.Errno)       = tight.Between
 )
-
-func most(c int) api.Bound { return api.Bound(2*c + 1) }
-
-func less(c int) api.Bound { return api.Bound(2 * c) }
-
-// of is a matrix as it is written, whether it may be or not.
-func of(clocks int, bounds ...api.Bound) api.Dbm { return api.Dbm{Clocks: clocks, Bounds: bounds} }
-
-// full is a matrix with one bound everywhere.
-func full(clocks int, b api.Bound) api.Dbm {
-	return of(clocks, slices.Repeat([]api.Bound{b}, clocks*clocks)...)
-}
-
-// with is a matrix that has another bound at one place.
-func with(d api.Dbm, i, j int, b api.Bound) api.Dbm {
-	bounds := slices.Clone(d.Bounds)
-	bounds[i*d.Clocks+j] = b
-	return of(d.Clocks, bounds...)
-}
-
-// free is a matrix that says nothing but at most 0 of each clock and itself.
-func free(clocks int) api.Dbm {
-	d := full(clocks, none)
-	for i := range clocks {
-		d.Bounds[i*clocks+i] = 1
-	}
-	return d
-}
 
 // from is a span with both ends in it; those behind it leave out the low one, the high one, or both, or are open.
 func from(low, high int) api.Span { return api.Span{Low: low, High: high} }
@@ -69,61 +47,6 @@ func inside(low, high int) api.Span {
 func onFrom(low int) api.Span { return api.Span{Low: low, Open: true} }
 
 func onAbove(low int) api.Span { return api.Span{Low: low, LowStrict: true, Open: true} }
-
-// bad are matrices that may not be: by Clocks, by how many Bounds there are, by a number.
-func bad() []api.Dbm {
-	l := []api.Dbm{{}, of(0, 1), of(-1, 1), of(-2, 1, 1, 1, 1), of(5, full(5, 1).Bounds...), of(great, 1), of(least, 1), of(1 << 32),
-		of(1), of(1, 1, 1), of(2, 1), of(2, 1, 1, 1), of(2, 1, 1, 1, 1, 1), of(4, full(4, 1).Bounds[1:]...)}
-	for clocks := 1; clocks <= 4; clocks++ {
-		for _, b := range []api.Bound{most(edge + 1), less(edge + 1), most(-edge - 1), less(-edge - 1), none - 1, least} {
-			l = append(l, full(clocks, b), with(free(clocks), 0, 0, b), with(free(clocks), 0, clocks-1, b), with(free(clocks), clocks-1, clocks-1, b))
-		}
-	}
-	return l
-}
-
-// empty are matrices that may be, and that no times keep: not closed, so that each call has to find it out.
-func empty() []api.Dbm {
-	return []api.Dbm{of(1, 0), of(1, most(-edge)), of(2, 1, -5, 3, 1), of(2, 0, none, none, 1), of(2, 1, none, none, less(-edge)), of(2, 1, less(-4), most(4), 1),
-		with(with(with(free(3), 0, 1, most(5)), 1, 2, most(-8)), 2, 0, most(2)),
-		with(with(with(with(free(4), 0, 1, most(1)), 1, 2, most(1)), 2, 3, most(1)), 3, 0, less(-3)),
-		full(1, -1), full(2, most(-edge)), full(3, most(-edge)), full(4, less(-edge))}
-}
-
-// some are matrices whose bounds are drawn of a few, always the same ones.
-func some(n, clocks int, few ...api.Bound) []api.Dbm {
-	r := rand.New(rand.NewSource(int64(n)))
-	var l []api.Dbm
-	for range n {
-		d := full(clocks, none)
-		for place := range d.Bounds {
-			d.Bounds[place] = few[r.Intn(len(few))]
-		}
-		// A clock's bound of itself is drawn seldom, since it mostly empties all.
-		for i := range clocks {
-			if r.Intn(12) > 0 {
-				d.Bounds[i*clocks+i] = max(1, d.Bounds[i*clocks+i])
-			}
-		}
-		l = append(l, d)
-	}
-	return l
-}
-
-// few are the bounds that small matrices are drawn of.
-func few() []api.Bound {
-	return []api.Bound{none, none, none, 0, 1, -1, 2, 3, -2, -3, 4, 5}
-}
-
-// many are matrices of small numbers, and of those at the edges.
-func many() []api.Dbm {
-	var l []api.Dbm
-	for clocks := 1; clocks <= 4; clocks++ {
-		l = append(l, some(151, clocks, few()...)...)
-		l = append(l, some(152, clocks, none, most(edge), less(edge), most(-edge), less(-edge), 1)...)
-	}
-	return append(l, empty()...)
-}
 
 // answered fails, unless a call answered just that; beside an error that is the zero value.
 func answered(t *testing.T, name string, d api.Dbm, e api.Errno, want api.Dbm, wanted api.Errno) {
@@ -252,7 +175,7 @@ func TestSetAtClocks(t *testing.T) { // P5.1, P1
 }
 
 func TestErrBadOfMatrixComesFirst(t *testing.T) { // P5.1, P5.2, P1
-	for _, d := range bad() {
+	for _, d := range sample.Bad() {
 		for _, i := range append(outside(4), 0, 1) {
 			for _, b := range []api.Bound{1, 0, none, most(edge + 1)} {
 				got, e := tight.Set(d, i, 0, b)
@@ -265,7 +188,7 @@ func TestErrBadOfMatrixComesFirst(t *testing.T) { // P5.1, P5.2, P1
 				answered(t, "Between", got, e, d, api.ErrBad)
 			}
 		}
-		for _, other := range append(append(bad(), empty()...), free(1), free(2), free(4)) {
+		for _, other := range append(append(sample.Bad(), sample.Empty()...), free(1), free(2), free(4)) {
 			got, e := tight.Meet(d, other)
 			answered(t, "Meet", got, e, d, api.ErrBad)
 			got, e = tight.Meet(other, d)
@@ -275,7 +198,7 @@ func TestErrBadOfMatrixComesFirst(t *testing.T) { // P5.1, P5.2, P1
 }
 
 func TestEmptyStayEmpty(t *testing.T) { // P5.1, P5.2, P1
-	for _, d := range empty() {
+	for _, d := range sample.Empty() {
 		last := d.Clocks - 1
 		for _, b := range []api.Bound{1, 0, none, most(edge), less(-edge)} {
 			got, e := tight.Set(d, last, 0, b)
@@ -293,7 +216,7 @@ func TestEmptyStayEmpty(t *testing.T) { // P5.1, P5.2, P1
 		answered(t, "Between of a span that may not be", got, e, d, api.ErrBad)
 		got, e = tight.Between(d, -1, from(1, 0))
 		answered(t, "Between beyond", got, e, d, api.ErrArg)
-		for _, other := range append(empty(), free(1), free(2), free(3), free(4)) {
+		for _, other := range append(sample.Empty(), free(1), free(2), free(3), free(4)) {
 			want := api.ErrNone
 			if other.Clocks != d.Clocks {
 				want = api.ErrDim
@@ -353,7 +276,7 @@ func TestMeet(t *testing.T) { // P5.1
 		}
 	}
 	// One and itself come to its closed one.
-	for _, d := range many() {
+	for _, d := range sample.Many() {
 		want, wanted := dbm.Close(d)
 		got, e := tight.Meet(d, d)
 		answered(t, "Meet with itself", got, e, want, wanted)
@@ -536,7 +459,7 @@ func TestByTheWords(t *testing.T) { // P5.1, P5.2
 			gone++
 		}
 	}
-	all := many()
+	all := sample.Many()
 	for k, d := range all {
 		for place := range d.Bounds {
 			i, j := place/d.Clocks, place%d.Clocks
@@ -577,26 +500,6 @@ func TestByTheWords(t *testing.T) { // P5.1, P5.2
 	}
 }
 
-// grid goes through times by 4, as far as reach on both sides, for all clocks but that of nought: whole numbers' bounds that any times in reach keep are kept by one of these.
-func grid(clocks, reach int, each func([]api.Rat)) {
-	var quarters []api.Rat
-	for n := -4 * reach; n <= 4*reach; n++ {
-		q, _ := rat.Of(n, 4)
-		quarters = append(quarters, q)
-	}
-	var more func(times []api.Rat)
-	more = func(times []api.Rat) {
-		if len(times) == clocks-1 {
-			each(times)
-			return
-		}
-		for _, q := range quarters {
-			more(append(slices.Clone(times), q))
-		}
-	}
-	more(nil)
-}
-
 // keeps tells whether times keep a matrix that may be.
 func keeps(t *testing.T, d api.Dbm, times []api.Rat) bool {
 	t.Helper()
@@ -617,7 +520,7 @@ func inSpan(a api.Rat, s api.Span) bool {
 func sameTimes(t *testing.T, name string, d api.Dbm, e api.Errno, clocks int, said func([]api.Rat) bool) {
 	t.Helper()
 	found := false
-	grid(clocks, 3, func(times []api.Rat) {
+	sample.Grid(clocks, 3, func(times []api.Rat) {
 		want := said(times)
 		found = found || want
 		if e == api.OK && keeps(t, d, times) != want {
@@ -631,10 +534,10 @@ func sameTimes(t *testing.T, name string, d api.Dbm, e api.Errno, clocks int, sa
 
 func TestJustTheTimes(t *testing.T) { // P5.4
 	for clocks := 1; clocks <= 3; clocks++ {
-		l := some(40, clocks, few()...)
+		l := sample.Some(40, clocks, sample.Few()...)
 		for k, d := range l {
 			i, j := k%clocks, k/clocks%clocks
-			b := few()[k%len(few())]
+			b := sample.Few()[k%len(sample.Few())]
 			got, e := tight.Set(d, i, j, b)
 			sameTimes(t, "Set", got, e, clocks, func(times []api.Rat) bool {
 				all := append([]api.Rat{{Num: 0, Den: 1}}, times...)
@@ -672,7 +575,7 @@ func tells(clocks int) []tell {
 			l = append(l, func(d api.Dbm) (api.Dbm, api.Errno) { return tight.Between(d, i, s) })
 		}
 	}
-	for _, other := range some(5, clocks, few()...) {
+	for _, other := range sample.Some(5, clocks, sample.Few()...) {
 		l = append(l, func(d api.Dbm) (api.Dbm, api.Errno) { return tight.Meet(d, other) }, func(d api.Dbm) (api.Dbm, api.Errno) { return tight.Meet(other, d) })
 	}
 	return l
@@ -691,7 +594,7 @@ func TestWhichComesFirstTurnsNothing(t *testing.T) { // P5.4
 	kept, gone := 0, 0
 	for clocks := 1; clocks <= 4; clocks++ {
 		calls := tells(clocks)
-		for k, d := range some(12, clocks, few()...) {
+		for k, d := range sample.Some(12, clocks, sample.Few()...) {
 			for i := range calls {
 				a, b := calls[i], calls[(i*7+k)%len(calls)]
 				one, e := then(d, a, b)
@@ -731,7 +634,7 @@ func TestOnlyReadAndNew(t *testing.T) { // P5.3
 			{"Between", func(d api.Dbm) (api.Dbm, api.Errno) { return tight.Between(d, last, from(0, 2)) }},
 			{"Between of all", func(d api.Dbm) (api.Dbm, api.Errno) { return tight.Between(d, last, from(-edge, edge)) }},
 		} {
-			for _, d := range append(some(30, clocks, few()...), free(clocks), full(clocks, none)) {
+			for _, d := range append(sample.Some(30, clocks, sample.Few()...), free(clocks), full(clocks, none)) {
 				held := of(d.Clocks, slices.Clone(d.Bounds)...)
 				got, e := c.call(d)
 				if !dbm.Same(d, held) || !dbm.Same(other, free(clocks)) {
@@ -767,7 +670,7 @@ func TestOnlyReadAndNew(t *testing.T) { // P5.3
 func TestAnswersHangOnArgumentsAlone(t *testing.T) { // P2
 	for clocks := 1; clocks <= 4; clocks++ {
 		for _, call := range tells(clocks) {
-			for _, d := range some(6, clocks, few()...) {
+			for _, d := range sample.Some(6, clocks, sample.Few()...) {
 				first, e := call(d)
 				tight.Set(free(4), 3, 2, most(-edge))
 				tight.Meet(full(3, 0), full(3, 0))
