@@ -410,18 +410,7 @@ func slow(t *testing.T, d api.Dbm) []api.Rat {
 
 func TestPickByTheWords(t *testing.T) { // P6.2, P6.4, P1
 	n, gone := 0, 0
-	l := sample.Many()
-	for clocks := 2; clocks <= 4; clocks++ {
-		// Few bounds each, at the edges: most of these are kept by some times.
-		wide := []api.Bound{most(edge), less(edge), most(edge - 1), most(-edge), less(-edge), 1, 0, 3, -2}
-		for range 24 {
-			wide = append(wide, none)
-		}
-		l = append(l, sample.Some(800, clocks, wide...)...)
-		l = append(l, sample.Some(900, clocks, none, most(edge), less(edge))...)
-		l = append(l, sample.Some(901, clocks, none, none, none, most(edge), less(edge), most(-edge), less(-edge))...)
-	}
-	for _, d := range l {
+	for _, d := range append(sample.Many(), sample.Wide()...) {
 		if _, e := dbm.Close(d); e != api.OK {
 			picked(t, d, nil, e)
 			gone++

@@ -100,6 +100,19 @@ func Many() []api.Dbm {
 	return append(l, Empty()...)
 }
 
+// Wide are matrices with numbers at the edges, most of which some times keep: what follows from these is often beyond what may be.
+func Wide() []api.Dbm {
+	var l []api.Dbm
+	for clocks := 2; clocks <= api.MaxClocks; clocks++ {
+		// Few bounds each: most matrices that say much are empty.
+		few := append(slices.Repeat([]api.Bound{api.None}, 24), Most(Edge), Less(Edge), Most(Edge-1), Most(-Edge), Less(-Edge), 1, 0, 3, -2)
+		l = append(l, Some(800, clocks, few...)...)
+		l = append(l, Some(900, clocks, api.None, Most(Edge), Less(Edge))...)
+		l = append(l, Some(901, clocks, api.None, api.None, api.None, Most(Edge), Less(Edge), Most(-Edge), Less(-Edge))...)
+	}
+	return l
+}
+
 // Grid goes through times by 4, as far as reach on both sides, for all clocks but that of nought: whole numbers' bounds that any times in reach keep are kept by one of these.
 func Grid(clocks, reach int, each func([]api.Rat)) {
 	var quarters []api.Rat
