@@ -1,4 +1,4 @@
-// Package sample has bounds and matrices that the tests of several layers are made of; the program itself calls none of it.
+// Package sample has bounds, matrices, zones and spans that the tests of several layers are made of; the program itself calls none of it.
 package sample
 
 import (
@@ -43,6 +43,11 @@ func Free(clocks int) api.Dbm {
 	return d
 }
 
+// BadBounds are bounds that may not be in a matrix.
+func BadBounds() []api.Bound {
+	return []api.Bound{Most(Edge + 1), Less(Edge + 1), Most(-Edge - 1), Less(-Edge - 1), Most(1 << 61), Less(-1 << 61), api.None - 1, api.None - 2, math.MinInt, math.MinInt + 1}
+}
+
 // Bad are matrices that may not be: by Clocks, by how many Bounds there are, by a number.
 func Bad() []api.Dbm {
 	l := []api.Dbm{{}, Of(0), Of(0, 1), Of(-1, 1), Of(-2, 1, 1, 1, 1), Of(5, Full(5, 1).Bounds...), Of(math.MaxInt, 1), Of(math.MinInt, 1), Of(math.MinInt), Of(1 << 32), Of(math.MinInt + 1),
@@ -50,7 +55,7 @@ func Bad() []api.Dbm {
 		Of(4), Of(4, Full(4, 1).Bounds[1:]...), Of(4, append(Full(4, 1).Bounds, 1)...), Of(4, Full(5, 1).Bounds...), Of(3, 1, 1, 1)}
 	for clocks := 1; clocks <= api.MaxClocks; clocks++ {
 		last := clocks - 1
-		for _, b := range []api.Bound{Most(Edge + 1), Less(Edge + 1), Most(-Edge - 1), Less(-Edge - 1), Most(1 << 61), Less(-1 << 61), api.None - 1, api.None - 2, math.MinInt, math.MinInt + 1} {
+		for _, b := range BadBounds() {
 			l = append(l, Full(clocks, b), With(Free(clocks), 0, 0, b), With(Free(clocks), 0, last, b), With(Free(clocks), last, 0, b), With(Free(clocks), last, last, b))
 		}
 	}
@@ -117,7 +122,7 @@ func Wide() []api.Dbm {
 func Grid(clocks, reach int, each func([]api.Rat)) {
 	var quarters []api.Rat
 	for n := -4 * reach; n <= 4*reach; n++ {
-		quarters = append(quarters, quarter(n))
+		quarters = append(quarters, By(n, 4))
 	}
 	var more func(times []api.Rat)
 	more = func(times []api.Rat) {
@@ -132,15 +137,14 @@ func Grid(clocks, reach int, each func([]api.Rat)) {
 	more(nil)
 }
 
-// quarter is a number by 4, in lowest terms.
-func quarter(n int) api.Rat {
-	switch {
-	case n%4 == 0:
-		return api.Rat{Num: n / 4, Den: 1}
-	case n%2 == 0:
-		return api.Rat{Num: n / 2, Den: 2}
+// By is a fraction in lowest terms.
+func By(n, d int) api.Rat {
+	common, rest := n, d
+	for rest != 0 {
+		common, rest = rest, common%rest
 	}
-	return api.Rat{Num: n, Den: 4}
+	common = max(common, -common)
+	return api.Rat{Num: n / common, Den: d / common}
 }
 
 // draws tells numbers below another one by a rule, that begins with a number of its own.

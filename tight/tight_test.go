@@ -20,10 +20,12 @@ const (
 	great = math.MaxInt
 )
 
-// What matrices are written with.
+// What matrices and spans are written with.
 var (
-	most, less           = sample.Most, sample.Less
-	of, full, with, free = sample.Of, sample.Full, sample.With, sample.Free
+	most, less                 = sample.Most, sample.Less
+	of, full, with, free       = sample.Of, sample.Full, sample.With, sample.Free
+	from, above, below, inside = sample.From, sample.Above, sample.Below, sample.Inside
+	on, up                     = sample.On, sample.Up
 )
 
 // The calls, with the chapter's signatures.
@@ -32,21 +34,6 @@ var (
 	_ func(api.Dbm, api.Dbm) (api.Dbm, api.Errno)             = tight.Meet
 	_ func(api.Dbm, int, api.Span) (api.Dbm, api.Errno)       = tight.Between
 )
-
-// from is a span with both ends in it; those behind it leave out the low one, the high one, or both, or are open.
-func from(low, high int) api.Span { return api.Span{Low: low, High: high} }
-
-func above(low, high int) api.Span { return api.Span{Low: low, LowStrict: true, High: high} }
-
-func below(low, high int) api.Span { return api.Span{Low: low, High: high, HighStrict: true} }
-
-func inside(low, high int) api.Span {
-	return api.Span{Low: low, LowStrict: true, High: high, HighStrict: true}
-}
-
-func onFrom(low int) api.Span { return api.Span{Low: low, Open: true} }
-
-func onAbove(low int) api.Span { return api.Span{Low: low, LowStrict: true, Open: true} }
 
 // answered fails, unless a call answered just that; beside an error that is the zero value.
 func answered(t *testing.T, name string, d api.Dbm, e api.Errno, want api.Dbm, wanted api.Errno) {
@@ -183,7 +170,7 @@ func TestErrBadOfMatrixComesFirst(t *testing.T) { // P5.1, P5.2, P1
 				got, e = tight.Set(d, 0, i, b)
 				answered(t, "Set", got, e, d, api.ErrBad)
 			}
-			for _, s := range []api.Span{from(0, 1), from(1, 0), onFrom(edge + 1)} {
+			for _, s := range []api.Span{from(0, 1), from(1, 0), on(edge + 1)} {
 				got, e := tight.Between(d, i, s)
 				answered(t, "Between", got, e, d, api.ErrBad)
 			}
@@ -208,7 +195,7 @@ func TestEmptyStayEmpty(t *testing.T) { // P5.1, P5.2, P1
 		answered(t, "Set of a bound that may not be", got, e, d, api.ErrBad)
 		got, e = tight.Set(d, d.Clocks, 0, 1)
 		answered(t, "Set beyond", got, e, d, api.ErrArg)
-		for _, s := range []api.Span{from(0, 0), onFrom(-edge), from(-edge, edge)} {
+		for _, s := range []api.Span{from(0, 0), on(-edge), from(-edge, edge)} {
 			got, e = tight.Between(d, last, s)
 			answered(t, "Between", got, e, d, api.ErrNone)
 		}
@@ -300,8 +287,8 @@ func TestBetween(t *testing.T) { // P5.2
 		{free(2), 1, above(2, 4), of(2, 1, less(-2), most(4), 1), api.OK},
 		{free(2), 1, below(2, 4), of(2, 1, most(-2), less(4), 1), api.OK},
 		{free(2), 1, inside(2, 4), of(2, 1, less(-2), less(4), 1), api.OK},
-		{free(2), 1, onFrom(2), of(2, 1, most(-2), none, 1), api.OK},
-		{free(2), 1, onAbove(2), of(2, 1, less(-2), none, 1), api.OK},
+		{free(2), 1, on(2), of(2, 1, most(-2), none, 1), api.OK},
+		{free(2), 1, up(2), of(2, 1, less(-2), none, 1), api.OK},
 		{free(2), 1, from(-4, -2), of(2, 1, most(4), most(-2), 1), api.OK},
 		{free(2), 1, api.Span{}, of(2, 1, 1, 1, 1), api.OK},
 		// Both ends at one number: none is in it, if one is strict.
@@ -315,18 +302,18 @@ func TestBetween(t *testing.T) { // P5.2
 		{of(2, 1, -3, 9, 1), 1, inside(0, 3), of(2, 1, -3, less(3), 1), api.OK},
 		{of(2, 1, -3, 9, 1), 1, inside(2, 4), of(2, 1, less(-2), less(4), 1), api.OK},
 		{of(2, 1, -4, 8, 1), 1, from(2, 4), of(2, 1, -4, 8, 1), api.OK},
-		{of(2, 1, -3, 9, 1), 1, onFrom(0), of(2, 1, -3, 9, 1), api.OK},
-		{of(2, 1, -3, 9, 1), 1, onFrom(4), of(2, 1, most(-4), 9, 1), api.OK},
-		{of(2, 1, -3, 9, 1), 1, onAbove(4), api.Dbm{}, api.ErrNone},
-		{of(2, 1, -3, 9, 1), 1, onFrom(5), api.Dbm{}, api.ErrNone},
+		{of(2, 1, -3, 9, 1), 1, on(0), of(2, 1, -3, 9, 1), api.OK},
+		{of(2, 1, -3, 9, 1), 1, on(4), of(2, 1, most(-4), 9, 1), api.OK},
+		{of(2, 1, -3, 9, 1), 1, up(4), api.Dbm{}, api.ErrNone},
+		{of(2, 1, -3, 9, 1), 1, on(5), api.Dbm{}, api.ErrNone},
 		{of(2, 1, -3, 9, 1), 1, from(0, 2), of(2, 1, -3, most(2), 1), api.OK},
 		{of(2, 1, -3, 9, 1), 1, below(0, 2), api.Dbm{}, api.ErrNone},
 		{of(2, 1, -3, 9, 1), 1, from(0, 1), api.Dbm{}, api.ErrNone},
 		// Ones that are not closed are closed.
-		{of(2, none, -3, 9, 12), 1, onFrom(-7), of(2, 1, -3, 9, 1), api.OK},
+		{of(2, none, -3, 9, 12), 1, on(-7), of(2, 1, -3, 9, 1), api.OK},
 		{with(free(3), 2, 1, less(3)), 1, from(1, 2), of(3, 1, most(-1), none, most(2), 1, none, less(5), less(3), 1), api.OK},
 		{with(free(3), 2, 1, less(3)), 2, from(1, 2), of(3, 1, less(2), most(-1), none, 1, none, most(2), less(3), 1), api.OK},
-		{with(free(4), 1, 3, most(-1)), 3, onAbove(6), of(4, 1, none, none, less(-6), none, 1, none, most(-1), none, none, 1, none, none, none, none, 1), api.OK},
+		{with(free(4), 1, 3, most(-1)), 3, up(6), of(4, 1, none, none, less(-6), none, 1, none, most(-1), none, none, 1, none, none, none, none, 1), api.OK},
 		// Clock 0 is 0, and in a span, or not.
 		{free(1), 0, from(0, 0), free(1), api.OK},
 		{of(1, none), 0, from(-1, 1), free(1), api.OK},
@@ -335,10 +322,10 @@ func TestBetween(t *testing.T) { // P5.2
 		{free(3), 0, from(0, 2), free(3), api.OK},
 		{free(3), 0, inside(-1, 1), free(3), api.OK},
 		{of(2, 1, -3, 9, 1), 0, from(-edge, edge), of(2, 1, -3, 9, 1), api.OK},
-		{of(2, 1, -3, 9, 1), 0, onFrom(0), of(2, 1, -3, 9, 1), api.OK},
-		{of(2, 1, -3, 9, 1), 0, onAbove(-1), of(2, 1, -3, 9, 1), api.OK},
-		{of(2, 1, -3, 9, 1), 0, onAbove(0), api.Dbm{}, api.ErrNone},
-		{free(3), 0, onFrom(1), api.Dbm{}, api.ErrNone},
+		{of(2, 1, -3, 9, 1), 0, on(0), of(2, 1, -3, 9, 1), api.OK},
+		{of(2, 1, -3, 9, 1), 0, up(-1), of(2, 1, -3, 9, 1), api.OK},
+		{of(2, 1, -3, 9, 1), 0, up(0), api.Dbm{}, api.ErrNone},
+		{free(3), 0, on(1), api.Dbm{}, api.ErrNone},
 		{free(3), 0, above(0, 2), api.Dbm{}, api.ErrNone},
 		{free(3), 0, below(-2, 0), api.Dbm{}, api.ErrNone},
 		{free(3), 0, from(1, 2), api.Dbm{}, api.ErrNone},
@@ -351,10 +338,10 @@ func TestBetween(t *testing.T) { // P5.2
 		{free(2), 1, inside(-edge, edge), of(2, 1, less(edge), less(edge), 1), api.OK},
 		{free(2), 1, from(edge, edge), of(2, 1, most(-edge), most(edge), 1), api.OK},
 		{free(2), 1, from(-edge, -edge), of(2, 1, most(edge), most(-edge), 1), api.OK},
-		{free(2), 1, onFrom(edge), of(2, 1, most(-edge), none, 1), api.OK},
-		{free(2), 1, onAbove(edge), of(2, 1, less(-edge), none, 1), api.OK},
-		{free(2), 1, onFrom(-edge), of(2, 1, most(edge), none, 1), api.OK},
-		{free(2), 1, onAbove(-edge), of(2, 1, less(edge), none, 1), api.OK},
+		{free(2), 1, on(edge), of(2, 1, most(-edge), none, 1), api.OK},
+		{free(2), 1, up(edge), of(2, 1, less(-edge), none, 1), api.OK},
+		{free(2), 1, on(-edge), of(2, 1, most(edge), none, 1), api.OK},
+		{free(2), 1, up(-edge), of(2, 1, less(edge), none, 1), api.OK},
 	} {
 		d, e := tight.Between(c.d, c.i, c.s)
 		if !reflect.DeepEqual(d, c.want) || e != c.e {
@@ -371,7 +358,7 @@ func badSpans() []api.Span {
 		// An end beyond MaxConst.
 		from(0, edge+1), below(0, edge+1), from(-edge-1, 0), above(-edge-1, 0), from(edge+1, edge+1), from(-edge-1, -edge-1), from(-edge-1, edge+1), from(edge+1, 0),
 		from(0, great), from(least, 0), from(least, great), from(great, great), from(least, least), from(least+1, great), from(0, 1<<61), from(-1<<61, 0), from(1<<62, 1<<62),
-		onFrom(edge + 1), onAbove(edge + 1), onFrom(-edge - 1), onAbove(-edge - 1), onFrom(great), onFrom(least), onFrom(-1 << 61), onFrom(1 << 61),
+		on(edge + 1), up(edge + 1), on(-edge - 1), up(-edge - 1), on(great), on(least), on(-1 << 61), on(1 << 61),
 		// An open one that has something for its high end.
 		{Low: 2, High: 4, Open: true}, {Low: -2, High: -1, Open: true}, {High: 1, Open: true}, {High: -1, Open: true}, {HighStrict: true, Open: true}, {Low: 2, High: 4, HighStrict: true, Open: true},
 		{Low: -2, LowStrict: true, HighStrict: true, Open: true}, {Low: 2, High: edge, Open: true}, {Low: edge, High: edge + 1, Open: true}, {Low: 2, High: great, Open: true}, {Low: edge + 1, High: 1, HighStrict: true, Open: true},
@@ -380,7 +367,7 @@ func badSpans() []api.Span {
 
 func TestBetweenAsksFirst(t *testing.T) { // P5.2, P1
 	for clocks := 1; clocks <= 4; clocks++ {
-		for _, s := range append(badSpans(), from(2, 4), from(0, 0), above(0, 0), onFrom(0)) {
+		for _, s := range append(badSpans(), from(2, 4), from(0, 0), above(0, 0), on(0)) {
 			for _, i := range outside(clocks) {
 				d, e := tight.Between(free(clocks), i, s)
 				answered(t, "Between beyond", d, e, free(clocks), api.ErrArg)
@@ -430,7 +417,7 @@ func TestAnswersBeyondMaxConst(t *testing.T) { // P5.1, P5.2
 	answered(t, "Set", d, e, want, api.OK)
 	d, e = tight.Meet(with(free(4), 2, 3, most(-edge)), back)
 	answered(t, "Meet", d, e, want, api.OK)
-	d, e = tight.Between(with(with(free(4), 1, 2, most(-edge)), 2, 3, most(-edge)), 1, onAbove(edge))
+	d, e = tight.Between(with(with(free(4), 1, 2, most(-edge)), 2, 3, most(-edge)), 1, up(edge))
 	answered(t, "Between", d, e, want, api.OK)
 	// Not, if a bound that stands behind is lesser.
 	d, e = tight.Set(with(steps, 3, 0, most(7)), 1, 0, most(edge))
@@ -487,7 +474,7 @@ func TestByTheWords(t *testing.T) { // P5.1, P5.2
 			for _, c := range []struct {
 				s         api.Span
 				low, high api.Bound
-			}{{from(0, 1), 1, 3}, {above(-1, 1), 2, 3}, {below(1, 2), -1, 4}, {inside(-2, 0), 4, 0}, {onFrom(0), 1, none}, {onAbove(1), -2, none}, {from(-edge, edge), most(edge), most(edge)}, {inside(edge-1, edge), less(1 - edge), less(edge)}} {
+			}{{from(0, 1), 1, 3}, {above(-1, 1), 2, 3}, {below(1, 2), -1, 4}, {inside(-2, 0), 4, 0}, {on(0), 1, none}, {up(1), -2, none}, {from(-edge, edge), most(edge), most(edge)}, {inside(edge-1, edge), less(1 - edge), less(edge)}} {
 				want, wanted := slow(d, []int{i, i * d.Clocks}, []api.Bound{c.low, c.high})
 				got, e := tight.Between(d, i, c.s)
 				answered(t, "Between", got, e, want, wanted)
@@ -549,7 +536,7 @@ func TestJustTheTimes(t *testing.T) { // P5.4
 			sameTimes(t, "Meet", got, e, clocks, func(times []api.Rat) bool {
 				return keeps(t, d, times) && keeps(t, other, times)
 			})
-			s := []api.Span{from(0, 1), above(-1, 1), below(1, 2), inside(-2, 0), onFrom(0), onAbove(1), from(1, 1), above(1, 1), inside(0, 0), onFrom(-2)}[k%10]
+			s := []api.Span{from(0, 1), above(-1, 1), below(1, 2), inside(-2, 0), on(0), up(1), from(1, 1), above(1, 1), inside(0, 0), on(-2)}[k%10]
 			got, e = tight.Between(d, i, s)
 			sameTimes(t, "Between", got, e, clocks, func(times []api.Rat) bool {
 				all := append([]api.Rat{{Num: 0, Den: 1}}, times...)
@@ -571,7 +558,7 @@ func tells(clocks int) []tell {
 				l = append(l, func(d api.Dbm) (api.Dbm, api.Errno) { return tight.Set(d, i, j, b) })
 			}
 		}
-		for _, s := range []api.Span{from(0, 2), inside(-1, 1), onAbove(1)} {
+		for _, s := range []api.Span{from(0, 2), inside(-1, 1), up(1)} {
 			l = append(l, func(d api.Dbm) (api.Dbm, api.Errno) { return tight.Between(d, i, s) })
 		}
 	}

@@ -6,6 +6,7 @@ import (
 
 	"rallentando/api"
 	"rallentando/incl"
+	"rallentando/sample"
 	"rallentando/zone"
 )
 
@@ -102,7 +103,7 @@ func TestMakeTooFarApart(t *testing.T) { // P8.2
 		{[3]api.Span{from(-edge, -edge), on(1), on(0)}, [3]api.Span{from(-edge, -edge), on(0), on(0)}},   // t - u
 	} {
 		made(t, c.too, api.Zone{}, api.ErrBad)
-		want, _ := follows(spanned(c.well))
+		want, _ := follows(sample.Spanned(c.well))
 		made(t, c.well, want, api.OK)
 	}
 }
@@ -111,11 +112,11 @@ func TestMakeByTheWords(t *testing.T) { // P8.2, P8.5
 	l := []api.Span{from(0, 0), from(0, 2), above(0, 2), below(0, 2), inside(0, 2), inside(0, 1), on(1), up(1), from(-1, 1), inside(2, 3), on(-3), above(1, 1), inside(0, 0)}
 	kept, gone, apart := 0, 0, 0
 	triples(l, func(s [3]api.Span) {
-		want, e := follows(spanned(s))
+		want, e := follows(sample.Spanned(s))
 		made(t, s, want, e)
 		found := false
 		grid(func(at, to int) {
-			is := isIn(at, s[0]) && isIn(to, s[1]) && isIn(to-at, s[2])
+			is := sample.IsIn(at, s[0]) && sample.IsIn(to, s[1]) && sample.IsIn(to-at, s[2])
 			found = found || is
 			if is != (e == api.OK && has(want, at, to)) {
 				t.Fatalf("%v at %d, %d by quarters: %t", s, at, to, is)
@@ -131,7 +132,7 @@ func TestMakeByTheWords(t *testing.T) { // P8.2, P8.5
 		}
 	})
 	triples([]api.Span{from(0, 0), on(0), up(1), inside(-1, 1), from(-edge, edge), from(edge, edge), from(-edge, -edge), below(0, edge), above(-edge, 0), on(-edge), on(edge), up(edge), below(edge, edge)}, func(s [3]api.Span) {
-		want, e := follows(spanned(s))
+		want, e := follows(sample.Spanned(s))
 		made(t, s, want, e)
 		if e == api.ErrBad {
 			apart++

@@ -1,0 +1,116 @@
+package comp_test
+
+import (
+	"testing"
+
+	"rallentando/api"
+	"rallentando/comp"
+	"rallentando/sample"
+)
+
+const (
+	edge = 1 << 58
+	none = api.None
+)
+
+// What bounds, zones and spans are written with.
+var (
+	most, less                         = sample.Most, sample.Less
+	put, has                           = sample.Put, sample.Has
+	from, above, below, inside, on, up = sample.From, sample.Above, sample.Below, sample.Inside, sample.On, sample.Up
+	every                              = sample.Every[api.Zone]
+	isIn                               = sample.IsIn
+	small, wide, wrong                 = sample.SmallZones, sample.WideZones, sample.BadZones
+)
+
+// The calls, with the chapter's signatures.
+var (
+	_ func(api.Zone, api.Zone) (api.Zone, api.Errno) = comp.Comp
+	_ func(api.Zone) (api.Zone, api.Errno)           = comp.Back
+	_ func(api.Zone) (api.Span, api.Errno)           = comp.Firsts
+)
+
+// Zones that many tests take.
+var (
+	all   = sample.All()
+	box   = sample.Box()
+	point = sample.Single() // t 1, u 2
+	far   = sample.Far()    // t 2^58, u 0
+)
+
+// over is the zone of spans for t, for u, and for u less t, which may be.
+func over(t, u, d api.Span) api.Zone {
+	z, e := sample.Follows(sample.Spanned([3]api.Span{t, u, d}))
+	if e != api.OK {
+		panic(e)
+	}
+	return z
+}
+
+// square is the zone of spans for t and for u alone.
+func square(t, u api.Span) api.Zone {
+	z, e := sample.Follows(put(put(sample.Spanned([3]api.Span{t, u, on(0)}), 4, none), 5, none))
+	if e != api.OK {
+		panic(e)
+	}
+	return z
+}
+
+// one is the zone of one pair.
+func one(t, u int) api.Zone { return square(from(t, t), from(u, u)) }
+
+// bounds are those of a time that is in a span: of it, and of 0 less it.
+func bounds(s api.Span) (high, low api.Bound) {
+	z := sample.Spanned([3]api.Span{s})
+	return z[0], z[1]
+}
+
+// composed is what two zones come to, by the words: what either says without the time between, and each bound above that time put to each one below it.
+func composed(a, b api.Zone) (api.Zone, api.Errno) {
+	// The time between, less 0, t and u; and these less it.
+	high := [3]api.Bound{min(a[2], b[0]), a[4], b[5]}
+	low := [3]api.Bound{min(a[3], b[1]), a[5], b[4]}
+	way := func(i, j int) api.Bound { return sample.Sum(low[i], high[j]) }
+	for i := range 3 {
+		if way(i, i) < most(0) {
+			return api.Zone{}, api.ErrNone
+		}
+	}
+	return sample.Follows(api.Zone{min(a[0], way(1, 0)), min(a[1], way(0, 1)), min(b[2], way(2, 0)), min(b[3], way(0, 2)), way(2, 1), way(1, 2)})
+}
+
+// back is a zone, the other way round, bound by bound.
+func back(z api.Zone) api.Zone {
+	var turned api.Zone
+	for i, k := range [6]int{2, 3, 0, 1, 5, 4} {
+		turned[k] = z[i]
+	}
+	return turned
+}
+
+// comes fails, unless both zones compose to just that one; beside an error to none.
+func comes(t *testing.T, a, b, want api.Zone, wanted api.Errno) {
+	t.Helper()
+	if wanted != api.OK {
+		want = api.Zone{}
+	}
+	if z, e := comp.Comp(a, b); z != want || e != wanted {
+		t.Fatalf("Comp(%v, %v) = %v, %d, want %v, %d", a, b, z, e, want, wanted)
+	}
+}
+
+// turns fails, unless a zone the other way round is just that one; beside an error none.
+func turns(t *testing.T, z, want api.Zone, wanted api.Errno) {
+	t.Helper()
+	if turned, e := comp.Back(z); turned != want || e != wanted {
+		t.Fatalf("Back(%v) = %v, %d, want %v, %d", z, turned, e, want, wanted)
+	}
+}
+
+// begins fails, unless the firsts of a zone are just that span; beside an error none.
+func begins(t *testing.T, z api.Zone, want api.Span, wanted api.Errno) {
+	t.Helper()
+	if s, e := comp.Firsts(z); s != want || e != wanted {
+		t.Fatalf("Firsts(%v) = %v, %d, want %v, %d", z, s, e, want, wanted)
+	}
+}
