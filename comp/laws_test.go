@@ -6,6 +6,7 @@ import (
 
 	"rallentando/api"
 	"rallentando/comp"
+	"rallentando/sample"
 	"rallentando/zone"
 )
 
@@ -259,15 +260,8 @@ func TestAnswersHangOnArgumentsAlone(t *testing.T) { // P9.3, P2
 	l := slices.Concat(every(29, small()), every(29, wide()), wrong())
 	held := slices.Clone(l)
 	one := func(i int) answers { return ask(l[i], l[(i*7+1)%len(l)]) }
-	var first []answers
-	for i := range l {
-		first = append(first, one(i))
-	}
-	// Once more, from the end: neither what was asked ahead nor how often turns an answer.
-	for i := len(l) - 1; i >= 0; i-- {
-		if again := one(i); first[i] != again {
-			t.Fatalf("of %v %v, then %v", l[i], first[i], again)
-		}
+	for _, i := range sample.Turned(len(l), one) {
+		t.Errorf("of %v, and then %v", l[i], one(i))
 	}
 	if !slices.Equal(l, held) {
 		t.Error("what was handed in is another one")

@@ -18,6 +18,7 @@ var (
 	most, less                         = sample.Most, sample.Less
 	put, has                           = sample.Put, sample.Has
 	from, above, below, inside, on, up = sample.From, sample.Above, sample.Below, sample.Inside, sample.On, sample.Up
+	over, square, one                  = sample.Over, sample.Square, sample.One
 	every                              = sample.Every[api.Zone]
 	isIn                               = sample.IsIn
 	small, wide, wrong                 = sample.SmallZones, sample.WideZones, sample.BadZones
@@ -37,27 +38,6 @@ var (
 	point = sample.Single() // t 1, u 2
 	far   = sample.Far()    // t 2^58, u 0
 )
-
-// over is the zone of spans for t, for u, and for u less t, which may be.
-func over(t, u, d api.Span) api.Zone {
-	z, e := sample.Follows(sample.Spanned([3]api.Span{t, u, d}))
-	if e != api.OK {
-		panic(e)
-	}
-	return z
-}
-
-// square is the zone of spans for t and for u alone.
-func square(t, u api.Span) api.Zone {
-	z, e := sample.Follows(put(put(sample.Spanned([3]api.Span{t, u, on(0)}), 4, none), 5, none))
-	if e != api.OK {
-		panic(e)
-	}
-	return z
-}
-
-// one is the zone of one pair.
-func one(t, u int) api.Zone { return square(from(t, t), from(u, u)) }
 
 // bounds are those of a time that is in a span: of it, and of 0 less it.
 func bounds(s api.Span) (high, low api.Bound) {

@@ -137,6 +137,21 @@ func Grid(clocks, reach int, each func([]api.Rat)) {
 	more(nil)
 }
 
+// Turned are those of n questions that are answered otherwise when they are asked once more, from the end: neither what was asked ahead nor how often is to turn an answer.
+func Turned[T comparable](n int, one func(i int) T) []int {
+	var first []T
+	for i := range n {
+		first = append(first, one(i))
+	}
+	var l []int
+	for i := n - 1; i >= 0; i-- {
+		if one(i) != first[i] {
+			l = append(l, i)
+		}
+	}
+	return l
+}
+
 // By is a fraction in lowest terms.
 func By(n, d int) api.Rat {
 	common, rest := n, d

@@ -1,6 +1,10 @@
 package sample
 
-import "rallentando/api"
+import (
+	"math"
+
+	"rallentando/api"
+)
 
 // From is the span from a to b.
 func From(a, b int) api.Span { return api.Span{Low: a, High: b} }
@@ -46,4 +50,21 @@ func IsIn(x int, s api.Span) bool {
 		return false
 	}
 	return s.Open || x < 4*s.High || x == 4*s.High && !s.HighStrict
+}
+
+// BadSpans are spans that may not be: by an end, by the order of both, and open ones that have something for their high end.
+func BadSpans() []api.Span {
+	return []api.Span{
+		From(1, 0), Inside(1, 0), Above(3, 2), Below(3, 2), From(0, -1), Inside(5, 4), From(5, 0), From(Edge, -Edge), From(Edge, Edge-1), From(0, math.MinInt),
+		From(0, Edge+1), Below(0, Edge+1), From(-Edge-1, 0), Above(-Edge-1, 0), From(Edge+1, Edge+1), From(-Edge-1, -Edge-1), From(-Edge-1, Edge+1), From(Edge+1, 0),
+		From(0, math.MaxInt), From(math.MinInt, 0), From(math.MinInt, math.MaxInt), From(math.MaxInt, math.MaxInt), From(math.MinInt, math.MinInt), From(math.MinInt+1, math.MaxInt), From(0, 1<<61), From(-1<<61, 0), From(1<<62, 1<<62),
+		On(Edge + 1), Up(Edge + 1), On(-Edge - 1), Up(-Edge - 1), On(math.MaxInt), On(math.MinInt), On(-1 << 61), On(1 << 61),
+		{Low: 2, High: 4, Open: true}, {Low: -2, High: -1, Open: true}, {High: 1, Open: true}, {High: -1, Open: true}, {High: math.MinInt, Open: true}, {Low: 2, High: Edge, Open: true}, {Low: Edge, High: Edge + 1, Open: true}, {Low: 2, High: math.MaxInt, Open: true},
+		{HighStrict: true, Open: true}, {Low: 2, High: 4, HighStrict: true, Open: true}, {Low: -2, LowStrict: true, HighStrict: true, Open: true}, {Low: Edge + 1, High: 1, HighStrict: true, Open: true},
+	}
+}
+
+// NoSpans are spans that may be, and have nothing in them.
+func NoSpans() []api.Span {
+	return []api.Span{Above(1, 1), Below(1, 1), Inside(1, 1), Above(0, 0), Below(Edge, Edge), Above(-Edge, -Edge), Inside(Edge, Edge)}
 }

@@ -24,6 +24,26 @@ func Far() api.Zone {
 	return api.Zone{Most(Edge), Most(-Edge), Most(0), Most(0), Most(-Edge), Most(Edge)}
 }
 
+// Over is the zone of spans for t, for u, and for u less t, which may be.
+func Over(t, u, d api.Span) api.Zone { return sure(Spanned([3]api.Span{t, u, d})) }
+
+// Square is the zone of spans for t and for u alone, which may be.
+func Square(t, u api.Span) api.Zone {
+	return sure(Put(Put(Spanned([3]api.Span{t, u}), 4, api.None), 5, api.None))
+}
+
+// sure is the zone that bounds come to, if they come to one.
+func sure(z api.Zone) api.Zone {
+	closed, e := Follows(z)
+	if e != api.OK {
+		panic(e)
+	}
+	return closed
+}
+
+// One is the zone of one pair.
+func One(t, u int) api.Zone { return Square(From(t, t), From(u, u)) }
+
 // Sides are the clocks of a zone's bounds, in their order: the first one less the second one.
 func Sides() [6][2]int {
 	return [...][2]int{{1, 0}, {0, 1}, {2, 0}, {0, 2}, {2, 1}, {1, 2}}

@@ -25,7 +25,7 @@ var (
 	most, less                 = sample.Most, sample.Less
 	of, full, with, free       = sample.Of, sample.Full, sample.With, sample.Free
 	from, above, below, inside = sample.From, sample.Above, sample.Below, sample.Inside
-	on, up                     = sample.On, sample.Up
+	on, up, badSpans           = sample.On, sample.Up, sample.BadSpans
 )
 
 // The calls, with the chapter's signatures.
@@ -347,21 +347,6 @@ func TestBetween(t *testing.T) { // P5.2
 		if !reflect.DeepEqual(d, c.want) || e != c.e {
 			t.Errorf("%d: Between(%v, %d, %v) = %v, %d, want %v, %d", i, c.d, c.i, c.s, d, e, c.want, c.e)
 		}
-	}
-}
-
-// badSpans are spans that may not be.
-func badSpans() []api.Span {
-	return []api.Span{
-		// The high end below the low one.
-		from(1, 0), inside(1, 0), above(3, 2), below(3, 2), from(0, -1), from(edge, -edge), from(edge, edge-1), from(5, 0),
-		// An end beyond MaxConst.
-		from(0, edge+1), below(0, edge+1), from(-edge-1, 0), above(-edge-1, 0), from(edge+1, edge+1), from(-edge-1, -edge-1), from(-edge-1, edge+1), from(edge+1, 0),
-		from(0, great), from(least, 0), from(least, great), from(great, great), from(least, least), from(least+1, great), from(0, 1<<61), from(-1<<61, 0), from(1<<62, 1<<62),
-		on(edge + 1), up(edge + 1), on(-edge - 1), up(-edge - 1), on(great), on(least), on(-1 << 61), on(1 << 61),
-		// An open one that has something for its high end.
-		{Low: 2, High: 4, Open: true}, {Low: -2, High: -1, Open: true}, {High: 1, Open: true}, {High: -1, Open: true}, {HighStrict: true, Open: true}, {Low: 2, High: 4, HighStrict: true, Open: true},
-		{Low: -2, LowStrict: true, HighStrict: true, Open: true}, {Low: 2, High: edge, Open: true}, {Low: edge, High: edge + 1, Open: true}, {Low: 2, High: great, Open: true}, {Low: edge + 1, High: 1, HighStrict: true, Open: true},
 	}
 }
 

@@ -47,19 +47,6 @@ func TestMake(t *testing.T) { // P8.2
 	}
 }
 
-// badSpans may not be.
-func badSpans() []api.Span {
-	return []api.Span{on(edge + 1), on(-edge - 1), up(edge + 1), on(least), on(great),
-		from(-edge-1, 0), from(0, edge+1), below(0, edge+1), from(edge+1, edge+1), from(-edge-1, -edge-1), from(least, great), from(0, great), from(least, 0), from(great, great),
-		from(0, -1), from(edge, -edge), inside(5, 4), from(0, least),
-		{Open: true, High: 1}, {Open: true, High: -1}, {Open: true, High: least}, {Open: true, HighStrict: true}, {Low: 2, Open: true, High: 3}, {Low: 2, Open: true, High: 3, HighStrict: true}}
-}
-
-// nothings are spans that may be, and have nothing in them.
-func nothings() []api.Span {
-	return []api.Span{above(1, 1), below(1, 1), inside(1, 1), above(0, 0), below(edge, edge), above(-edge, -edge), inside(edge, edge)}
-}
-
 func TestMakeOfBadSpans(t *testing.T) { // P8.2, P1
 	// Ahead of all else, wherever it stands and whatever stands beside it.
 	others := slices.Concat([]api.Span{on(0), from(0, 4), from(5, 5), on(edge), from(-edge, -edge)}, nothings(), badSpans())

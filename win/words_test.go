@@ -1,0 +1,118 @@
+package win_test
+
+import (
+	"math"
+	"testing"
+
+	"rallentando/api"
+	"rallentando/sample"
+	"rallentando/win"
+)
+
+const (
+	edge  = 1 << 58
+	none  = api.None
+	least = math.MinInt
+	great = math.MaxInt
+)
+
+// What bounds, zones and spans are written with.
+var (
+	most, less                         = sample.Most, sample.Less
+	put, has, mayBe                    = sample.Put, sample.Has, sample.MayBe
+	from, above, below, inside, on, up = sample.From, sample.Above, sample.Below, sample.Inside, sample.On, sample.Up
+	over, square, one                  = sample.Over, sample.Square, sample.One
+	isIn, badSpans, nothings           = sample.IsIn, sample.BadSpans, sample.NoSpans
+	every                              = sample.Every[api.Zone]
+	small, wide, wrong                 = sample.SmallZones, sample.WideZones, sample.BadZones
+)
+
+// The calls, with the chapter's signatures.
+var (
+	_ func(api.Zone, api.Span) (api.Zone, api.Errno) = win.Within
+	_ func(api.Zone, int, int) (api.Zone, api.Errno) = win.Window
+	_ func(api.Zone, int) (api.Zone, api.Errno)      = win.Shift
+)
+
+// Zones that many tests take.
+var (
+	all   = sample.All()
+	box   = sample.Box()
+	point = sample.Single()                     // t 1, u 2
+	far   = sample.Far()                        // t 2^58, u 0
+	whole = over(from(0, 4), from(0, 4), up(0)) // the chapter's: t and u from 0 to 4, u - t above 0
+)
+
+// differing is the zone of all pairs whose u less t is in a span.
+func differing(s api.Span) api.Zone {
+	z := all
+	z[4], z[5] = bounds(s)
+	return z
+}
+
+// ending is the zone of all pairs whose u is in a span.
+func ending(s api.Span) api.Zone {
+	z := all
+	z[2], z[3] = bounds(s)
+	return z
+}
+
+// bounds are those of a number that is in a span: of it, and of 0 less it.
+func bounds(s api.Span) (high, low api.Bound) {
+	z := sample.Spanned([3]api.Span{s})
+	return z[0], z[1]
+}
+
+// withinByWords is what pairs of a zone within a span come to: both its bounds are put, and what follows.
+func withinByWords(z api.Zone, s api.Span) (api.Zone, api.Errno) {
+	high, low := bounds(s)
+	return sample.Follows(put(put(z, 4, min(z[4], high)), 5, min(z[5], low)))
+}
+
+// windowByWords is what pairs of a zone in a window come to.
+func windowByWords(z api.Zone, from, to int) (api.Zone, api.Errno) {
+	return sample.Follows(put(put(z, 2, min(z[2], most(to))), 3, min(z[3], less(-from))))
+}
+
+// shiftByWords is a zone so much later, or ErrBad, if it may not be.
+func shiftByWords(z api.Zone, by int) (api.Zone, api.Errno) {
+	for i, way := range [4]int{by, -by, by, -by} {
+		z[i] = sample.Sum(z[i], most(way))
+	}
+	if !mayBe(z) {
+		return api.Zone{}, api.ErrBad
+	}
+	return z, api.OK
+}
+
+// cuts fails, unless a zone within a span is just that one; beside an error none.
+func cuts(t *testing.T, z api.Zone, s api.Span, want api.Zone, wanted api.Errno) {
+	t.Helper()
+	got, e := win.Within(z, s)
+	told(t, "Within", got, e, want, wanted, z, s)
+}
+
+// opens fails, unless a zone in a window is just that one; beside an error none.
+func opens(t *testing.T, z api.Zone, low, high int, want api.Zone, wanted api.Errno) {
+	t.Helper()
+	got, e := win.Window(z, low, high)
+	told(t, "Window", got, e, want, wanted, z, low, high)
+}
+
+// goes fails, unless a zone so much later is just that one; beside an error none.
+func goes(t *testing.T, z api.Zone, by int, want api.Zone, wanted api.Errno) {
+	t.Helper()
+	got, e := win.Shift(z, by)
+	told(t, "Shift", got, e, want, wanted, z, by)
+}
+
+// told fails, unless a call answered just that; beside an error that is no zone.
+func told(t *testing.T, name string, z api.Zone, e api.Errno, want api.Zone, wanted api.Errno, of ...any) {
+	t.Helper()
+	if wanted != api.OK {
+		want = api.Zone{}
+	}
+	if z != want || e != wanted {
+		t.Fatalf("%s(%v) = %v, %d, want %v, %d", name, of, z, e, want, wanted)
+	}
+}
