@@ -20,7 +20,7 @@ var (
 	from, above, below, inside, on, up = sample.From, sample.Above, sample.Below, sample.Inside, sample.On, sample.Up
 	over, square, one                  = sample.Over, sample.Square, sample.One
 	every                              = sample.Every[api.Zone]
-	isIn                               = sample.IsIn
+	isIn, bounds                       = sample.IsIn, sample.Ends
 	small, wide, wrong                 = sample.SmallZones, sample.WideZones, sample.BadZones
 )
 
@@ -38,12 +38,6 @@ var (
 	point = sample.Single() // t 1, u 2
 	far   = sample.Far()    // t 2^58, u 0
 )
-
-// bounds are those of a time that is in a span: of it, and of 0 less it.
-func bounds(s api.Span) (high, low api.Bound) {
-	z := sample.Spanned([3]api.Span{s})
-	return z[0], z[1]
-}
 
 // composed is what two zones come to, by the words: what either says without the time between, and each bound above that time put to each one below it.
 func composed(a, b api.Zone) (api.Zone, api.Errno) {

@@ -44,6 +44,12 @@ func Spanned(l [3]api.Span) api.Zone {
 	return z
 }
 
+// Ends are the bounds of a time that is in a span: of it, and of 0 less it.
+func Ends(s api.Span) (high, low api.Bound) {
+	z := Spanned([3]api.Span{s})
+	return z[0], z[1]
+}
+
 // IsIn tells of a number by quarters whether it is in a span.
 func IsIn(x int, s api.Span) bool {
 	if x < 4*s.Low || x == 4*s.Low && s.LowStrict {

@@ -44,6 +44,22 @@ func sure(z api.Zone) api.Zone {
 // One is the zone of one pair.
 func One(t, u int) api.Zone { return Square(From(t, t), From(u, u)) }
 
+// Starting is the zone of all pairs whose t is in a span.
+func Starting(s api.Span) api.Zone { return spanned(0, s) }
+
+// Ending is the zone of all pairs whose u is in a span.
+func Ending(s api.Span) api.Zone { return spanned(2, s) }
+
+// Differing is the zone of all pairs whose u less t is in a span.
+func Differing(s api.Span) api.Zone { return spanned(4, s) }
+
+// spanned is the zone of which just one difference is in a span.
+func spanned(i int, s api.Span) api.Zone {
+	z := All()
+	z[i], z[i+1] = Ends(s)
+	return z
+}
+
 // Sides are the clocks of a zone's bounds, in their order: the first one less the second one.
 func Sides() [6][2]int {
 	return [...][2]int{{1, 0}, {0, 1}, {2, 0}, {0, 2}, {2, 1}, {1, 2}}
@@ -65,6 +81,23 @@ func Sum(a, b api.Bound) api.Bound {
 		return Less(c)
 	}
 	return Most(c)
+}
+
+// Addition is a sum of two bounds, or which error it is, if it may not be in a zone.
+type Addition struct {
+	A, B, Sum api.Bound
+	E         api.Errno
+}
+
+// Additions are sums of bounds just within what may be in a zone, and just beyond it.
+func Additions() []Addition {
+	return []Addition{
+		{A: Most(Edge), B: Most(0), Sum: Most(Edge)}, {A: Less(Edge), B: Most(0), Sum: Less(Edge)}, {A: Most(Edge), B: Less(0), Sum: Less(Edge)}, {A: Most(Edge - 1), B: Most(1), Sum: Most(Edge)}, {A: Less(Edge - 7), B: Less(7), Sum: Less(Edge)},
+		{A: Most(0), B: Most(Edge), Sum: Most(Edge)}, {A: Most(1), B: Less(Edge - 1), Sum: Less(Edge)}, {A: Most(-Edge), B: Most(Edge), Sum: Most(0)}, {A: Most(Edge), B: Less(-Edge), Sum: Less(0)}, {A: Most(-3), B: Most(Edge), Sum: Most(Edge - 3)},
+		{A: Most(-Edge), B: Most(0), Sum: Most(-Edge)}, {A: Less(-Edge), B: Most(0), Sum: Less(-Edge)}, {A: Most(1 - Edge), B: Less(-1), Sum: Less(-Edge)}, {A: Most(0), B: Less(-Edge), Sum: Less(-Edge)}, {A: Most(-Edge), B: Most(1), Sum: Most(1 - Edge)},
+		{A: Most(Edge), B: Most(1), E: api.ErrBad}, {A: Less(Edge), B: Most(1), E: api.ErrBad}, {A: Most(Edge), B: Less(1), E: api.ErrBad}, {A: Less(1), B: Less(Edge), E: api.ErrBad}, {A: Most(Edge), B: Most(Edge), E: api.ErrBad}, {A: Less(Edge), B: Less(Edge), E: api.ErrBad},
+		{A: Most(-Edge), B: Most(-1), E: api.ErrBad}, {A: Less(-Edge), B: Most(-1), E: api.ErrBad}, {A: Most(-1), B: Less(-Edge), E: api.ErrBad}, {A: Most(-Edge), B: Most(-Edge), E: api.ErrBad}, {A: Less(-Edge), B: Less(-Edge), E: api.ErrBad},
+	}
 }
 
 // Follows is the zone that bounds come to, or which error: each is the lesser one of the two ways there are with three clocks, and a way back below 0 empties it.

@@ -118,24 +118,12 @@ func TestWithinAtTheEdges(t *testing.T) { // P10.1
 	cuts(t, put(all, 5, less(edge)), from(-edge, -edge), api.Zone{}, api.ErrNone)
 }
 
-// sums are two bounds, and their sum, or that it may not be in a zone.
-var sums = []struct {
-	a, b, want api.Bound
-	e          api.Errno
-}{
-	{a: most(edge), b: most(0), want: most(edge)}, {a: less(edge), b: most(0), want: less(edge)}, {a: most(edge), b: less(0), want: less(edge)}, {a: most(edge - 1), b: most(1), want: most(edge)}, {a: less(edge - 7), b: less(7), want: less(edge)},
-	{a: most(0), b: most(edge), want: most(edge)}, {a: most(1), b: less(edge - 1), want: less(edge)}, {a: most(-edge), b: most(edge), want: most(0)}, {a: most(edge), b: less(-edge), want: less(0)}, {a: most(-3), b: most(edge), want: most(edge - 3)},
-	{a: most(-edge), b: most(0), want: most(-edge)}, {a: less(-edge), b: most(0), want: less(-edge)}, {a: most(1 - edge), b: less(-1), want: less(-edge)}, {a: most(0), b: less(-edge), want: less(-edge)}, {a: most(-edge), b: most(1), want: most(1 - edge)},
-	{a: most(edge), b: most(1), e: api.ErrBad}, {a: less(edge), b: most(1), e: api.ErrBad}, {a: most(edge), b: less(1), e: api.ErrBad}, {a: less(1), b: less(edge), e: api.ErrBad}, {a: most(edge), b: most(edge), e: api.ErrBad}, {a: less(edge), b: less(edge), e: api.ErrBad},
-	{a: most(-edge), b: most(-1), e: api.ErrBad}, {a: less(-edge), b: most(-1), e: api.ErrBad}, {a: most(-1), b: less(-edge), e: api.ErrBad}, {a: most(-edge), b: most(-edge), e: api.ErrBad}, {a: less(-edge), b: less(-edge), e: api.ErrBad},
-}
-
 // number is that of a bound, and whether it is strict.
 func number(b api.Bound) (int, bool) { return int(b >> 1), b%2 == 0 }
 
 func TestWithinBeyondMaxConst(t *testing.T) { // P10.1
-	for _, c := range sums {
-		n, strict := number(c.b)
+	for _, c := range sample.Additions() {
+		n, strict := number(c.B)
 		// The other end of each is none that says anything.
 		low := api.Span{Low: -n, LowStrict: strict, Open: true}
 		high := api.Span{Low: -edge, High: n, HighStrict: strict}
@@ -146,10 +134,10 @@ func TestWithinBeyondMaxConst(t *testing.T) { // P10.1
 			if p.s.HighStrict && p.s.High == -edge {
 				continue // nothing is in it
 			}
-			z := put(all, p.at, c.a)
-			want := put(z, p.to, c.want)
+			z := put(all, p.at, c.A)
+			want := put(z, p.to, c.Sum)
 			want[4], want[5] = bounds(p.s)
-			cuts(t, z, p.s, want, c.e)
+			cuts(t, z, p.s, want, c.E)
 		}
 	}
 	// There is no pair, and numbers are beyond: that there is none is told first.
@@ -234,8 +222,8 @@ func TestWindowTellsWhatFollows(t *testing.T) { // P10.1
 }
 
 func TestWindowBeyondMaxConst(t *testing.T) { // P10.1
-	for _, c := range sums {
-		n, strict := number(c.b)
+	for _, c := range sample.Additions() {
+		n, strict := number(c.B)
 		if n == -edge {
 			continue // there is no such window
 		}
@@ -245,10 +233,10 @@ func TestWindowBeyondMaxConst(t *testing.T) { // P10.1
 		}
 		// The bound that the zone has, and the one that it and the window's come to.
 		for _, j := range joins {
-			z := put(all, j[0], c.a)
-			want := put(z, j[1], c.want)
+			z := put(all, j[0], c.A)
+			want := put(z, j[1], c.Sum)
 			want[2], want[3] = most(high), less(-low)
-			opens(t, z, low, high, want, c.e)
+			opens(t, z, low, high, want, c.E)
 		}
 	}
 	// There is no pair, and numbers are beyond: that there is none is told first.

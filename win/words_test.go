@@ -22,6 +22,7 @@ var (
 	put, has, mayBe                    = sample.Put, sample.Has, sample.MayBe
 	from, above, below, inside, on, up = sample.From, sample.Above, sample.Below, sample.Inside, sample.On, sample.Up
 	over, square, one                  = sample.Over, sample.Square, sample.One
+	ending, differing, bounds          = sample.Ending, sample.Differing, sample.Ends
 	isIn, badSpans, nothings           = sample.IsIn, sample.BadSpans, sample.NoSpans
 	every                              = sample.Every[api.Zone]
 	small, wide, wrong                 = sample.SmallZones, sample.WideZones, sample.BadZones
@@ -42,26 +43,6 @@ var (
 	far   = sample.Far()                        // t 2^58, u 0
 	whole = over(from(0, 4), from(0, 4), up(0)) // the chapter's: t and u from 0 to 4, u - t above 0
 )
-
-// differing is the zone of all pairs whose u less t is in a span.
-func differing(s api.Span) api.Zone {
-	z := all
-	z[4], z[5] = bounds(s)
-	return z
-}
-
-// ending is the zone of all pairs whose u is in a span.
-func ending(s api.Span) api.Zone {
-	z := all
-	z[2], z[3] = bounds(s)
-	return z
-}
-
-// bounds are those of a number that is in a span: of it, and of 0 less it.
-func bounds(s api.Span) (high, low api.Bound) {
-	z := sample.Spanned([3]api.Span{s})
-	return z[0], z[1]
-}
 
 // withinByWords is what pairs of a zone within a span come to: both its bounds are put, and what follows.
 func withinByWords(z api.Zone, s api.Span) (api.Zone, api.Errno) {

@@ -1,0 +1,123 @@
+package minus_test
+
+import (
+	"slices"
+	"testing"
+
+	"rallentando/api"
+	"rallentando/minus"
+	"rallentando/sample"
+)
+
+const (
+	edge = 1 << 58
+	none = api.None
+)
+
+// What bounds, zones and spans are written with.
+var (
+	most, less                         = sample.Most, sample.Less
+	put, has                           = sample.Put, sample.Has
+	from, above, below, inside, on, up = sample.From, sample.Above, sample.Below, sample.Inside, sample.On, sample.Up
+	over, square, one                  = sample.Over, sample.Square, sample.One
+	starting, ending, differing        = sample.Starting, sample.Ending, sample.Differing
+	every                              = sample.Every[api.Zone]
+	small, wide, wrong                 = sample.SmallZones, sample.WideZones, sample.BadZones
+)
+
+// The calls, with the chapter's signatures.
+var (
+	_ func(api.Zone, api.Zone) ([]api.Zone, api.Errno)   = minus.Minus
+	_ func(api.Zone, []api.Zone) ([]api.Zone, api.Errno) = minus.Left
+)
+
+// Zones that many tests take.
+var (
+	all   = sample.All()
+	box   = sample.Box()                            // t from 0 on below 2, u from 1 to 3, u - t above 0
+	point = sample.Single()                         // t 1, u 2
+	far   = sample.Far()                            // t 2^58, u 0
+	whole = over(from(0, 4), from(0, 4), up(0))     // the chapter's: t and u from 0 to 4, u - t above 0
+	part  = over(from(1, 2), from(0, 4), up(0))     // the chapter's other one: the same with t from 1 to 2
+	broad = square(from(0, 4), from(0, 4))          // t and u from 0 to 4
+	upper = put(all, 0, most(edge))                 // t up to 2^58
+	lower = put(all, 1, most(edge))                 // t from -2^58 on
+	stuff = []api.Zone{all, box, point, far, whole} // the first five
+)
+
+// zones are some, as they are written.
+func zones(l ...api.Zone) []api.Zone { return l }
+
+// not is what the other way round is kept just where a bound of a number is not: at most c is 2c + 1, and less than -c is -2c.
+func not(b api.Bound) api.Bound { return 1 - b }
+
+// minusByWords are the zones of one less another one: each bound that is not None turned round, and those ahead put, whether anything is left or not; and what follows of all that.
+func minusByWords(a, b api.Zone) ([]api.Zone, api.Errno) {
+	var l []api.Zone
+	for i, limit := range b {
+		if limit == none {
+			continue
+		}
+		z, e := sample.Follows(put(a, i^1, min(a[i^1], not(limit))))
+		if e == api.ErrBad {
+			return nil, e
+		}
+		if e == api.OK {
+			l = append(l, z)
+		}
+		a = put(a, i, min(a[i], limit))
+		if _, e := sample.Follows(a); e == api.ErrBad {
+			return nil, e
+		}
+	}
+	return l, api.OK
+}
+
+// leftByWords are the zones of one less some, one after another.
+func leftByWords(a api.Zone, l []api.Zone) ([]api.Zone, api.Errno) {
+	left := zones(a)
+	for _, b := range l {
+		var next []api.Zone
+		for _, z := range left {
+			more, e := minusByWords(z, b)
+			if e != api.OK {
+				return nil, e
+			}
+			next = append(next, more...)
+		}
+		if len(next) > api.MaxLeft {
+			return nil, api.ErrMany
+		}
+		left = next
+	}
+	return left, api.OK
+}
+
+// takes fails, unless one zone less another one is just these, in this order; beside an error none.
+func takes(t *testing.T, a, b api.Zone, want []api.Zone, wanted api.Errno) {
+	t.Helper()
+	l, e := minus.Minus(a, b)
+	told(t, "Minus", l, e, want, wanted, a, b)
+}
+
+// leaves fails, unless what is left of a zone by some is just these, in this order; beside an error none.
+func leaves(t *testing.T, a api.Zone, l, want []api.Zone, wanted api.Errno) {
+	t.Helper()
+	left, e := minus.Left(a, l)
+	told(t, "Left", left, e, want, wanted, a, l)
+}
+
+// told fails, unless a call answered just these zones; beside an error that are none.
+func told(t *testing.T, name string, l []api.Zone, e api.Errno, want []api.Zone, wanted api.Errno, of ...any) {
+	t.Helper()
+	if wanted != api.OK {
+		want = nil
+	}
+	if e == wanted && slices.Equal(l, want) {
+		return
+	}
+	if len(l) > 9 || len(want) > 9 {
+		t.Fatalf("%s answers %d zones, %d, want %d, %d", name, len(l), e, len(want), wanted)
+	}
+	t.Fatalf("%s(%v) = %v, %d, want %v, %d", name, of, l, e, want, wanted)
+}
