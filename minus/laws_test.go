@@ -11,63 +11,19 @@ import (
 	"rallentando/zone"
 )
 
-// reach is how far times by quarters go, which tell zones of small numbers, and what is left of them.
-const reach = 4 * 7
-
-// points are some pairs of times by quarters, a bit each.
-type points [(2*reach+1)*(2*reach+1)/64 + 1]uint64
-
-// pointsOf are the pairs of times of a zone.
-func pointsOf(z api.Zone) (l points) {
-	n := 0
-	for t := -reach; t <= reach; t++ {
-		for u := -reach; u <= reach; u++ {
-			if has(z, t, u) {
-				l[n/64] |= 1 << (n % 64)
-			}
-			n++
-		}
-	}
-	return l
-}
-
-// and are the pairs of both.
-func (l points) and(m points) points {
-	for i := range l {
-		l[i] &= m[i]
-	}
-	return l
-}
-
-// or are the pairs of any of both.
-func (l points) or(m points) points {
-	for i := range l {
-		l[i] |= m[i]
-	}
-	return l
-}
-
-// but are the pairs of the first ones that are none of the others.
-func (l points) but(m points) points {
-	for i := range l {
-		l[i] &^= m[i]
-	}
-	return l
-}
-
 // partsJust fails, unless zones that are answered may be, have at least a pair each, none twice, and all together just those that are said.
-func partsJust(t *testing.T, l []api.Zone, e api.Errno, said points, of ...any) {
+func partsJust(t *testing.T, l []api.Zone, e api.Errno, said sample.Points, of ...any) {
 	t.Helper()
 	if e != api.OK {
 		t.Fatal(of, e)
 	}
-	var so points
+	var so sample.Points
 	for _, z := range l {
-		p := pointsOf(z)
-		if zone.Check(z) != api.OK || p == (points{}) || p.and(so) != (points{}) {
+		p := sample.PointsOf(z)
+		if zone.Check(z) != api.OK || p == (sample.Points{}) || p.And(so) != (sample.Points{}) {
 			t.Fatalf("of %v: %v, among %v", of, z, l)
 		}
-		so = so.or(p)
+		so = so.Or(p)
 	}
 	if so != said {
 		t.Fatalf("of %v: %v has other points", of, l)
@@ -76,17 +32,17 @@ func partsJust(t *testing.T, l []api.Zone, e api.Errno, said points, of ...any) 
 
 func TestPointsOfMinus(t *testing.T) { // P11.3
 	l := append(every(97, small()), all, box, point, whole, part, broad)
-	var has []points
+	var has []sample.Points
 	for _, z := range l {
-		has = append(has, pointsOf(z))
+		has = append(has, sample.PointsOf(z))
 	}
 	count := map[string]int{}
 	for i, a := range l {
 		for j, b := range l {
 			left, e := minus.Minus(a, b)
-			partsJust(t, left, e, has[i].but(has[j]), a, b)
-			switch both := has[i].and(has[j]); {
-			case both == points{}:
+			partsJust(t, left, e, has[i].But(has[j]), a, b)
+			switch both := has[i].And(has[j]); {
+			case both == sample.Points{}:
 				count["apart"]++
 			case both == has[i]:
 				count["within"]++
@@ -105,11 +61,11 @@ func TestPointsOfLeft(t *testing.T) { // P11.3
 	some, nothing := 0, 0
 	for i := range 6 * len(l) {
 		a, by := l[i*5%len(l)], []api.Zone{}
-		said := pointsOf(a)
+		said := sample.PointsOf(a)
 		for k := range i%4 + 1 {
 			b := l[(i*i+k*67+i/7)%len(l)]
 			by = append(by, b)
-			said = said.but(pointsOf(b))
+			said = said.But(sample.PointsOf(b))
 		}
 		left, e := minus.Left(a, by)
 		partsJust(t, left, e, said, a, by)
@@ -214,20 +170,12 @@ func TestWhatIsHandedInIsOnlyRead(t *testing.T) { // P11.2
 			}
 			// To change what is answered, up to its end and beyond, changes nothing of it, and nothing that is answered behind it.
 			kept := slices.Clone(first)
-			spoil(first)
+			sample.Spoil(first)
 			if !slices.Equal(room, held) {
 				t.Fatalf("of %v, %v: what is answered shares memory with what was handed in", a, l)
 			}
 			leaves(t, a, room[:len(l)], kept, e)
 		}
-	}
-}
-
-// spoil changes zones, and what room there is behind them.
-func spoil(l []api.Zone) {
-	l = l[:cap(l)]
-	for i := range l {
-		l[i] = api.Zone{-7, -7, -7, -7, -7, -7}
 	}
 }
 
@@ -245,7 +193,7 @@ func TestWhatIsAnsweredIsNew(t *testing.T) { // P11.2
 		if len(one) == 0 || !slices.Equal(one, other) {
 			t.Fatal(one, other)
 		}
-		spoil(one)
+		sample.Spoil(one)
 		if third := answer(); !slices.Equal(other, held) || !slices.Equal(third, held) {
 			t.Fatal("what was answered ahead turns", other, third)
 		}

@@ -6,6 +6,7 @@ import (
 
 	"rallentando/api"
 	"rallentando/minus"
+	"rallentando/sample"
 )
 
 // first and second are the chapter's zone with t up to 1, and from 1 on.
@@ -109,25 +110,6 @@ func TestLeftBeyondMaxConst(t *testing.T) { // P11.1
 	leaves(t, lower, zones(starting(from(1, 2)), put(all, 5, most(1))), nil, api.ErrBad)
 }
 
-// lattice is a zone, and those that cut it into so many columns and rows. Columns go down from the first one on, and so do rows in each; u has no end on either side. To turn it is to turn its signs: the last column, or turned the first one, goes on to 2^58 from 0.
-func lattice(columns, rows, sign int) (api.Zone, []api.Zone) {
-	a := starting(from(-edge, 2*columns))
-	if sign < 0 {
-		a = starting(from(-2*columns, edge))
-	}
-	var l []api.Zone
-	for i := range columns - 1 {
-		l = append(l, starting(from(sign*(2*i+1), sign*(2*i+1))))
-	}
-	for i := range rows - 1 {
-		l = append(l, ending(from(-sign*(2*i+1), -sign*(2*i+1))))
-	}
-	return a, l
-}
-
-// line is what has too great numbers in the column of a lattice that goes on to 2^58, and cuts one row of each other one in two: the first one, or turned the last one.
-func line(sign int) api.Zone { return ending(from(sign, sign)) }
-
 // many fails, unless that many zones are left, or unless it is that error.
 func many(t *testing.T, a api.Zone, l []api.Zone, want int, wanted api.Errno) {
 	t.Helper()
@@ -139,22 +121,15 @@ func many(t *testing.T, a api.Zone, l []api.Zone, want int, wanted api.Errno) {
 
 func TestLeftWithMaxLeftZones(t *testing.T) { // P11.1
 	// 64 columns of 64 zones each, from the last one down to the first one.
-	open := inside(-1, 127)
-	a := square(open, open)
-	var columns, rows, want []api.Zone
-	for i := 126; i >= 0; i -= 2 {
-		for j := 126; j >= 0; j -= 2 {
-			want = append(want, square(inside(i-1, i+1), inside(j-1, j+1)))
+	a, columns, rows := sample.Net()
+	cell, cut := sample.Cell, sample.Cut
+	with := func(l ...api.Zone) []api.Zone { return slices.Concat(columns, rows, l) }
+	var want []api.Zone
+	for i := 63; i >= 0; i-- {
+		for j := 63; j >= 0; j-- {
+			want = append(want, cell(i, j))
 		}
 	}
-	for i := 1; i < 126; i += 2 {
-		columns = append(columns, square(from(i, i), open))
-		rows = append(rows, square(open, from(i, i)))
-	}
-	with := func(l ...api.Zone) []api.Zone { return slices.Concat(columns, rows, l) }
-	// The zone at a column and a row, and what makes two of it and turns nothing of the others.
-	cell := func(i, j int) api.Zone { return square(inside(2*i-1, 2*i+1), inside(2*j-1, 2*j+1)) }
-	cut := func(i, j int) api.Zone { return square(inside(2*i-1, 2*i+1), from(2*j, 2*j)) }
 	if len(want) != api.MaxLeft {
 		t.Fatal(len(want))
 	}
@@ -168,7 +143,7 @@ func TestLeftWithMaxLeftZones(t *testing.T) { // P11.1
 	leaves(t, a, with(cut(0, 0)), nil, api.ErrMany)
 	leaves(t, a, with(cut(7, 50)), nil, api.ErrMany)
 	leaves(t, a, with(one(2, 2)), nil, api.ErrMany)
-	leaves(t, a, with(square(from(2, 2), open)), nil, api.ErrMany)
+	leaves(t, a, with(square(from(2, 2), inside(-1, 127))), nil, api.ErrMany)
 	// At a step, whatever would come behind it.
 	leaves(t, a, with(cut(0, 0), a), nil, api.ErrMany)
 	leaves(t, a, with(cut(0, 0), cell(0, 0)), nil, api.ErrMany)
@@ -184,29 +159,29 @@ func TestLeftWithMaxLeftZones(t *testing.T) { // P11.1
 
 func TestWhichOfManyAndBadComesFirst(t *testing.T) { // P11.1
 	for _, sign := range []int{1, -1} {
-		a, lines := lattice(64, 64, sign)
+		a, lines := sample.Lattice(64, 64, sign)
 		with := func(l ...api.Zone) []api.Zone { return append(slices.Clone(lines), l...) }
 		many(t, a, lines, api.MaxLeft, api.OK)
 		// At an earlier step than the other one.
 		point := one(sign*4, -sign*4)
 		many(t, a, with(point), 0, api.ErrMany)
-		many(t, a, with(point, line(sign)), 0, api.ErrMany)
-		many(t, a, with(line(sign), point), 0, api.ErrBad)
-		many(t, a, append(zones(line(sign)), with(point)...), 0, api.ErrBad)
-		many(t, a, zones(line(sign)), 0, api.ErrBad)
+		many(t, a, with(point, sample.Line(sign)), 0, api.ErrMany)
+		many(t, a, with(sample.Line(sign), point), 0, api.ErrBad)
+		many(t, a, append(zones(sample.Line(sign)), with(point)...), 0, api.ErrBad)
+		many(t, a, zones(sample.Line(sign)), 0, api.ErrBad)
 	}
 	// At the same step: in the first column there is one that may not be, and behind it there would be too many.
-	a, lines := lattice(128, 32, -1)
+	a, lines := sample.Lattice(128, 32, -1)
 	many(t, a, lines, api.MaxLeft, api.OK)
-	many(t, a, append(lines, line(-1)), 0, api.ErrBad)
+	many(t, a, append(lines, sample.Line(-1)), 0, api.ErrBad)
 	// In the last one: too many come ahead of it.
-	a, lines = lattice(128, 32, 1)
+	a, lines = sample.Lattice(128, 32, 1)
 	many(t, a, lines, api.MaxLeft, api.OK)
-	many(t, a, append(lines, line(1)), 0, api.ErrMany)
+	many(t, a, append(lines, sample.Line(1)), 0, api.ErrMany)
 	// In the last column, of a zone of which one more comes ahead of what may not be: with that one there are MaxLeft, and one more than that.
-	a, lines = lattice(64, 64, 1)
-	many(t, a, append(lines, line(1)), 0, api.ErrBad)
-	a, lines = lattice(65, 63, 1)
+	a, lines = sample.Lattice(64, 64, 1)
+	many(t, a, append(lines, sample.Line(1)), 0, api.ErrBad)
+	a, lines = sample.Lattice(65, 63, 1)
 	many(t, a, lines, 65*63, api.OK)
-	many(t, a, append(lines, line(1)), 0, api.ErrMany)
+	many(t, a, append(lines, sample.Line(1)), 0, api.ErrMany)
 }

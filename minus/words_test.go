@@ -21,6 +21,7 @@ var (
 	from, above, below, inside, on, up = sample.From, sample.Above, sample.Below, sample.Inside, sample.On, sample.Up
 	over, square, one                  = sample.Over, sample.Square, sample.One
 	starting, ending, differing        = sample.Starting, sample.Ending, sample.Differing
+	not, minusByWords, leftByWords     = sample.Not, sample.Minus, sample.Left
 	every                              = sample.Every[api.Zone]
 	small, wide, wrong                 = sample.SmallZones, sample.WideZones, sample.BadZones
 )
@@ -47,51 +48,6 @@ var (
 
 // zones are some, as they are written.
 func zones(l ...api.Zone) []api.Zone { return l }
-
-// not is what the other way round is kept just where a bound of a number is not: at most c is 2c + 1, and less than -c is -2c.
-func not(b api.Bound) api.Bound { return 1 - b }
-
-// minusByWords are the zones of one less another one: each bound that is not None turned round, and those ahead put, whether anything is left or not; and what follows of all that.
-func minusByWords(a, b api.Zone) ([]api.Zone, api.Errno) {
-	var l []api.Zone
-	for i, limit := range b {
-		if limit == none {
-			continue
-		}
-		z, e := sample.Follows(put(a, i^1, min(a[i^1], not(limit))))
-		if e == api.ErrBad {
-			return nil, e
-		}
-		if e == api.OK {
-			l = append(l, z)
-		}
-		a = put(a, i, min(a[i], limit))
-		if _, e := sample.Follows(a); e == api.ErrBad {
-			return nil, e
-		}
-	}
-	return l, api.OK
-}
-
-// leftByWords are the zones of one less some, one after another.
-func leftByWords(a api.Zone, l []api.Zone) ([]api.Zone, api.Errno) {
-	left := zones(a)
-	for _, b := range l {
-		var next []api.Zone
-		for _, z := range left {
-			more, e := minusByWords(z, b)
-			if e != api.OK {
-				return nil, e
-			}
-			next = append(next, more...)
-		}
-		if len(next) > api.MaxLeft {
-			return nil, api.ErrMany
-		}
-		left = next
-	}
-	return left, api.OK
-}
 
 // takes fails, unless one zone less another one is just these, in this order; beside an error none.
 func takes(t *testing.T, a, b api.Zone, want []api.Zone, wanted api.Errno) {
