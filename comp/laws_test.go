@@ -10,63 +10,8 @@ import (
 	"rallentando/zone"
 )
 
-// The times that pairs are tried with: the outer ones by quarters, the one between by eighths, and farther by what small zones may ask of it.
-const (
-	outer  = 4 * 5
-	middle = 8*5 + 8*3
-)
-
-// doubled is a zone of twice the numbers: what it has by quarters the zone itself has by eighths.
-func doubled(z api.Zone) api.Zone {
-	for i, b := range z {
-		if b != none {
-			z[i] = 2*b - b&1
-		}
-	}
-	return z
-}
-
-// times are some times by eighths, a bit each.
-type times [2*middle/64 + 1]uint64
-
-// marked are the times between that a call takes.
-func marked(is func(s int) bool) times {
-	var l times
-	for s := range 2*middle + 1 {
-		if is(s - middle) {
-			l[s/64] |= 1 << (s % 64)
-		}
-	}
-	return l
-}
-
-// common tells whether two have a time in common.
-func common(a, b times) bool {
-	for i := range a {
-		if a[i]&b[i] != 0 {
-			return true
-		}
-	}
-	return false
-}
-
-// behind are the times between that are behind each outer one in a zone's pairs.
-func behind(z api.Zone) (l [2*outer + 1]times) {
-	z = doubled(z)
-	for i := range l {
-		l[i] = marked(func(s int) bool { return has(z, 2*(i-outer), s) })
-	}
-	return l
-}
-
-// ahead are those that are ahead of each outer one.
-func ahead(z api.Zone) (l [2*outer + 1]times) {
-	z = doubled(z)
-	for i := range l {
-		l[i] = marked(func(s int) bool { return has(z, s, 2*(i-outer)) })
-	}
-	return l
-}
+// outer is how far times by quarters go, that pairs with a time between are tried with.
+const outer = sample.Outer
 
 func TestPairsOfComp(t *testing.T) { // P9.1, P9.4
 	count := map[bool]int{}
@@ -82,7 +27,7 @@ func TestPairsOfComp(t *testing.T) { // P9.1, P9.4
 			found := false
 			for i := range of {
 				for k := range to {
-					is := common(of[i], to[k])
+					is := of[i].Common(to[k])
 					found = found || is
 					if is != (e == api.OK && has(z, i-outer, k-outer)) {
 						t.Fatalf("Comp(%v, %v) = %v, %d; %d, %d by quarters: %t", a, b, z, e, i-outer, k-outer, is)
@@ -110,7 +55,7 @@ func TestPairsOfBackAndFirsts(t *testing.T) { // P9.1, P9.2, P9.4
 		seconds := behind(z)
 		for i, l := range seconds {
 			// None is left out at the low end: that there is no least one is told otherwise.
-			if is := common(l, marked(func(int) bool { return true })); e == api.OK && is != isIn(i-outer, s) {
+			if is := l != (sample.Times{}); e == api.OK && is != isIn(i-outer, s) {
 				t.Fatalf("Firsts(%v) = %v; %d by quarters: %t", z, s, i-outer, is)
 			}
 			for k := range seconds {
@@ -120,7 +65,7 @@ func TestPairsOfBackAndFirsts(t *testing.T) { // P9.1, P9.2, P9.4
 				}
 			}
 		}
-		if lowest := common(seconds[0], marked(func(int) bool { return true })); e == api.ErrNone != lowest {
+		if lowest := seconds[0] != (sample.Times{}); e == api.ErrNone != lowest {
 			t.Fatalf("Firsts(%v) = %v, %d; so low: %t", z, s, e, lowest)
 		}
 	}

@@ -22,6 +22,7 @@ var (
 	every                              = sample.Every[api.Zone]
 	isIn, bounds                       = sample.IsIn, sample.Ends
 	small, wide, wrong                 = sample.SmallZones, sample.WideZones, sample.BadZones
+	composed, behind, ahead            = sample.Composed, sample.Behind, sample.Ahead
 )
 
 // The calls, with the chapter's signatures.
@@ -38,20 +39,6 @@ var (
 	point = sample.Single() // t 1, u 2
 	far   = sample.Far()    // t 2^58, u 0
 )
-
-// composed is what two zones come to, by the words: what either says without the time between, and each bound above that time put to each one below it.
-func composed(a, b api.Zone) (api.Zone, api.Errno) {
-	// The time between, less 0, t and u; and these less it.
-	high := [3]api.Bound{min(a[2], b[0]), a[4], b[5]}
-	low := [3]api.Bound{min(a[3], b[1]), a[5], b[4]}
-	way := func(i, j int) api.Bound { return sample.Sum(low[i], high[j]) }
-	for i := range 3 {
-		if way(i, i) < most(0) {
-			return api.Zone{}, api.ErrNone
-		}
-	}
-	return sample.Follows(api.Zone{min(a[0], way(1, 0)), min(a[1], way(0, 1)), min(b[2], way(2, 0)), min(b[3], way(0, 2)), way(2, 1), way(1, 2)})
-}
 
 // back is a zone, the other way round, bound by bound.
 func back(z api.Zone) api.Zone {

@@ -27,15 +27,6 @@ func isInOne(p api.Point, l []api.Zone) bool {
 	return slices.ContainsFunc(l, func(z api.Zone) bool { is, e := zone.Has(z, p); return is && e == api.OK })
 }
 
-// picked are some of a list, always the same ones.
-func picked(l []api.Zone, i, n int) []api.Zone {
-	var some []api.Zone
-	for k := range n {
-		some = append(some, l[(i*i+k*k*37+k*i+i/7)%len(l)])
-	}
-	return some
-}
-
 func TestPoints(t *testing.T) { // P12.1, P12.5
 	l := slices.Concat(every(13, small()), narrow())
 	count := map[bool]int{}

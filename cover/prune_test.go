@@ -22,20 +22,6 @@ func inAnyOrder(t *testing.T, l, want []api.Zone) {
 	wants(t, want, want, api.OK)
 }
 
-// orders goes through all orders of some.
-func orders(l []api.Zone, do func([]api.Zone)) {
-	var more func(ahead, rest []api.Zone)
-	more = func(ahead, rest []api.Zone) {
-		if len(rest) == 0 {
-			do(ahead)
-		}
-		for i, z := range rest {
-			more(append(slices.Clone(ahead), z), slices.Concat(rest[:i], rest[i+1:]))
-		}
-	}
-	more(nil, l)
-}
-
 // stands fails, unless a zone stands there in the order of some, once each.
 func stands(t *testing.T, z api.Zone, l []api.Zone, at int) {
 	t.Helper()
@@ -182,23 +168,6 @@ func TestPruneByTheWords(t *testing.T) { // P12.2
 	if count[api.OK] < 1000 || count[api.ErrBad] < 1000 || gone < 300 {
 		t.Error(count, gone, "are too few to tell")
 	}
-}
-
-// narrow are zones of small numbers that are put together of few, so that they often cover one another.
-func narrow() []api.Zone {
-	spans := []api.Span{from(0, 1), from(1, 2), from(0, 2), below(0, 1), above(1, 2), inside(0, 2), from(1, 1), from(0, 0), below(0, 2), above(0, 2)}
-	var l []api.Zone
-	for _, t := range spans {
-		for _, u := range spans {
-			l = append(l, square(t, u))
-			for _, d := range []api.Span{up(0), from(0, 0), from(0, 1), below(-2, 0), from(-1, 0)} {
-				if z, e := zone.Make(t, u, d); e == api.OK {
-					l = append(l, z)
-				}
-			}
-		}
-	}
-	return l
 }
 
 func TestPruneOfManyThatOverlap(t *testing.T) { // P12.2, P12.5

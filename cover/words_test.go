@@ -23,7 +23,9 @@ var (
 	over, square, one                  = sample.Over, sample.Square, sample.One
 	starting, ending, differing        = sample.Starting, sample.Ending, sample.Differing
 	every                              = sample.Every[api.Zone]
-	small, wide, wrong                 = sample.SmallZones, sample.WideZones, sample.BadZones
+	small, wide, wrong, narrow         = sample.SmallZones, sample.WideZones, sample.BadZones, sample.NarrowZones
+	inByWords, allByWords              = sample.Covered, sample.AllCovered
+	pruneByWords, picked, orders       = sample.Wanted, sample.Picked, sample.Orders
 )
 
 // The calls, with the chapter's signatures.
@@ -54,55 +56,6 @@ func zones(l ...api.Zone) []api.Zone { return l }
 
 // times are a zone so many times.
 func times(n int, z api.Zone) []api.Zone { return slices.Repeat(zones(z), n) }
-
-// inByWords tells whether nothing is left of a zone by some.
-func inByWords(z api.Zone, l []api.Zone) (bool, api.Errno) {
-	left, e := sample.Left(z, l)
-	return e == api.OK && len(left) == 0, e
-}
-
-// allByWords tells whether each of some, one after another, is covered by others.
-func allByWords(a, b []api.Zone) (bool, api.Errno) {
-	for _, z := range a {
-		if is, e := inByWords(z, b); !is {
-			return false, e
-		}
-	}
-	return true, api.OK
-}
-
-// pruneByWords are what is wanted of some: gone are those that are covered by what is still there.
-func pruneByWords(l []api.Zone) ([]api.Zone, api.Errno) {
-	var ordered []api.Zone
-	for _, z := range l {
-		at := 0
-		for at < len(ordered) && zone.Cmp(ordered[at], z) < 0 {
-			at++
-		}
-		if at == len(ordered) || ordered[at] != z {
-			ordered = slices.Insert(ordered, at, z)
-		}
-	}
-	gone := make([]bool, len(ordered))
-	there := func() []api.Zone {
-		var l []api.Zone
-		for i, z := range ordered {
-			if !gone[i] {
-				l = append(l, z)
-			}
-		}
-		return l
-	}
-	for i := len(ordered) - 1; i >= 0; i-- {
-		gone[i] = true
-		is, e := inByWords(ordered[i], there())
-		if e != api.OK {
-			return nil, e
-		}
-		gone[i] = is
-	}
-	return there(), api.OK
-}
 
 // witnessByWords is the point that is picked of the first zone that is left of a zone by some.
 func witnessByWords(z api.Zone, l []api.Zone) (api.Point, api.Errno) {

@@ -74,3 +74,14 @@ func BadSpans() []api.Span {
 func NoSpans() []api.Span {
 	return []api.Span{Above(1, 1), Below(1, 1), Inside(1, 1), Above(0, 0), Below(Edge, Edge), Above(-Edge, -Edge), Inside(Edge, Edge)}
 }
+
+// BadWindows are two numbers each that no window goes by: by a number, and by their order.
+func BadWindows() [][2]int {
+	l := [][2]int{{3, 3}, {0, 0}, {Edge, Edge}, {-Edge, -Edge}, {1, 0}, {0, -1}, {9, 2}, {Edge, -Edge}, {Edge, Edge - 1}, {1 - Edge, -Edge}}
+	for _, n := range []int{Edge + 1, -Edge - 1, Edge + 2, 1 << 61, -1 << 61, 1 << 62, -1 << 62, math.MaxInt, math.MaxInt - 1, math.MinInt, math.MinInt + 1} {
+		for _, m := range []int{0, 2, Edge, -Edge, n, n - 1, n + 1} {
+			l = append(l, [2]int{n, m}, [2]int{m, n})
+		}
+	}
+	return l
+}

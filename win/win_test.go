@@ -247,17 +247,6 @@ func TestWindowBeyondMaxConst(t *testing.T) { // P10.1
 	opens(t, far, -2, -1, api.Zone{}, api.ErrNone)
 }
 
-// badWindows may not be: by a number, and by their order.
-func badWindows() [][2]int {
-	l := [][2]int{{3, 3}, {0, 0}, {edge, edge}, {-edge, -edge}, {1, 0}, {0, -1}, {9, 2}, {edge, -edge}, {edge, edge - 1}, {1 - edge, -edge}}
-	for _, n := range []int{edge + 1, -edge - 1, edge + 2, 1 << 61, -1 << 61, 1 << 62, -1 << 62, great, great - 1, least, least + 1} {
-		for _, m := range []int{0, 2, edge, -edge, n, n - 1, n + 1} {
-			l = append(l, [2]int{n, m}, [2]int{m, n})
-		}
-	}
-	return l
-}
-
 func TestWindowErrors(t *testing.T) { // P10.1, P1
 	for _, w := range badWindows() {
 		// Ahead of what there is, and of what it comes to: pairs at all, pairs that are apart from it, numbers that are beyond.

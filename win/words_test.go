@@ -24,8 +24,10 @@ var (
 	over, square, one                  = sample.Over, sample.Square, sample.One
 	ending, differing, bounds          = sample.Ending, sample.Differing, sample.Ends
 	isIn, badSpans, nothings           = sample.IsIn, sample.BadSpans, sample.NoSpans
+	badWindows                         = sample.BadWindows
 	every                              = sample.Every[api.Zone]
 	small, wide, wrong                 = sample.SmallZones, sample.WideZones, sample.BadZones
+	withinByWords, windowByWords       = sample.Spaced, sample.Windowed
 )
 
 // The calls, with the chapter's signatures.
@@ -43,17 +45,6 @@ var (
 	far   = sample.Far()                        // t 2^58, u 0
 	whole = over(from(0, 4), from(0, 4), up(0)) // the chapter's: t and u from 0 to 4, u - t above 0
 )
-
-// withinByWords is what pairs of a zone within a span come to: both its bounds are put, and what follows.
-func withinByWords(z api.Zone, s api.Span) (api.Zone, api.Errno) {
-	high, low := bounds(s)
-	return sample.Follows(put(put(z, 4, min(z[4], high)), 5, min(z[5], low)))
-}
-
-// windowByWords is what pairs of a zone in a window come to.
-func windowByWords(z api.Zone, from, to int) (api.Zone, api.Errno) {
-	return sample.Follows(put(put(z, 2, min(z[2], most(to))), 3, min(z[3], less(-from))))
-}
 
 // shiftByWords is a zone so much later, or ErrBad, if it may not be.
 func shiftByWords(z api.Zone, by int) (api.Zone, api.Errno) {

@@ -158,15 +158,6 @@ func TestHas(t *testing.T) { // P8.3
 	}
 }
 
-// badTimes may not be: by Den, by common divisors, by size.
-func badTimes() []api.Rat {
-	l := []api.Rat{{}, {Num: 1}, {Num: least}, {Num: great, Den: 1}, {Num: least, Den: 1}, {Num: 1<<61 + 1, Den: 1}, {Num: -1<<61 - 1, Den: 1}, {Num: great, Den: 3}, {Num: least, Den: 3}}
-	for _, den := range []int{-1, -2, least, 1<<20 + 1, 1 << 21, great} {
-		l = append(l, api.Rat{Num: 1, Den: den}, api.Rat{Num: 0, Den: den})
-	}
-	return append(l, api.Rat{Num: 0, Den: 2}, api.Rat{Num: 2, Den: 4}, api.Rat{Num: -3, Den: 3}, api.Rat{Num: 1 << 20, Den: 1 << 20}, api.Rat{Num: 6, Den: 9})
-}
-
 func TestHasErrors(t *testing.T) { // P8.3, P1
 	times := append(badTimes(), by(0, 1), by(1, 1), by(3, 2))
 	for _, bad := range badTimes() {

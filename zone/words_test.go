@@ -24,7 +24,7 @@ var (
 	put, mixed, follows, mayBe, has    = sample.Put, sample.Mixed, sample.Follows, sample.MayBe, sample.Has
 	by, at, whole                      = sample.By, sample.At, sample.Whole
 	from, above, below, inside, on, up = sample.From, sample.Above, sample.Below, sample.Inside, sample.On, sample.Up
-	badSpans, nothings                 = sample.BadSpans, sample.NoSpans
+	badSpans, nothings, badTimes       = sample.BadSpans, sample.NoSpans, sample.BadTimes
 	every                              = sample.Every[api.Zone]
 	small, wide, wrong, beyonds        = sample.SmallZones, sample.WideZones, sample.BadZones, sample.BadBounds
 )
