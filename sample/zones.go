@@ -192,9 +192,12 @@ func BadZones() []api.Zone {
 }
 
 // Has tells of times by quarters whether they are in a zone.
-func Has(z api.Zone, t, u int) bool {
+func Has(z api.Zone, t, u int) bool { return HasBy(4, z, t, u) }
+
+// HasBy tells it of times by any unit.
+func HasBy(unit int, z api.Zone, t, u int) bool {
 	for i, x := range [6]int{t, -t, u, -u, u - t, t - u} {
-		c := 4 * int(z[i]>>1)
+		c := unit * int(z[i]>>1)
 		if z[i] != api.None && (x > c || x == c && z[i]%2 == 0) {
 			return false
 		}
